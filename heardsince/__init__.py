@@ -1,0 +1,1 @@
+"""Heardsince: what people heard from one another, told back."""

@@ -1,0 +1,159 @@
+"""Calendars, the order of all meetings, and slates, the order of each person's own; who has heard of whom by them."""
+
+from heardsince.checks import is_all_of, is_dict_of, is_list, is_number, is_pair_of
+from heardsince.errors import BadCalendar, BadMany, BadSlates
+from heardsince.villages import check_person, check_village
+
+
+def is_calendar(village, thing):
+    """Whether a thing is a list of all meetings, each once."""
+    check_village(village)
+    return calendar_places(village, thing) is not None
+
+
+def is_slates(village, thing):
+    """Whether a thing is a dict from just all people to lists of just all their friends."""
+    check_village(village)
+    if not is_dict_of(village.people(), thing):
+        return False
+    return all([is_all_of(village.friends(person), thing[person]) for person in village.people()])
+
+
+def slates_of(village, calendar):
+    """The slates of a calendar."""
+    check_calendar(village, calendar)
+    slates = {person: [] for person in village.people()}
+    for one, other in calendar:
+        slates[one].append(other)
+        slates[other].append(one)
+    return slates
+
+
+def calendar_of(village, slates):
+    """The first calendar with these slates."""
+    check_slates(village, slates)
+    return meetings_in_order(village.ties(), slates, [])
+
+
+def are_alike(village, one, other):
+    """Whether two calendars have the same slates."""
+    check_calendar(village, one)
+    check_calendar(village, other)
+    return slates_of(village, one) == slates_of(village, other)
+
+
+def has_heard(village, slates, one, other):
+    """Whether, by slates, one has heard of other."""
+    check_slates(village, slates)
+    check_person(village, one)
+    check_person(village, other)
+    return other in heard_from(slates, one)
+
+
+def heard_of(village, slates, person):
+    """The list of those of whom a person has heard, in the village's order."""
+    check_slates(village, slates)
+    check_person(village, person)
+    heard = heard_from(slates, person)
+    return [other for other in village.people() if other in heard]
+
+
+def heard_by(village, slates, person):
+    """The list of those who have heard of a person, in the village's order."""
+    check_slates(village, slates)
+    check_person(village, person)
+    return [one for one in village.people() if person in heard_from(slates, one)]
+
+
+def heard_ahead(village, calendar, many):
+    """The dict from people to the lists of those of whom they have heard behind the first so many meetings."""
+    check_calendar(village, calendar)
+    if not is_number(many) or many > len(calendar):
+        raise BadMany(many)
+    people = village.people()
+    heard = {person: [person] for person in people}
+    for one, other in calendar[:many]:
+        # there are no rings, so the two have heard of nobody in common
+        both = heard[one] + heard[other]
+        heard[one] = both
+        heard[other] = both
+    return {person: [other for other in people if other in heard[person]] for person in people}
+
+
+def check_calendar(village, calendar):
+    """Raises BadVillage, BadCalendar."""
+    if not is_calendar(village, calendar):
+        raise BadCalendar(calendar)
+
+
+def check_slates(village, slates):
+    """Raises BadVillage, BadSlates."""
+    if not is_slates(village, slates):
+        raise BadSlates(slates)
+
+
+def calendar_places(village, thing):
+    """The places in village.ties() of the meetings of a calendar, None for what is no calendar."""
+    ties = village.ties()
+    if not is_list(thing) or len(thing) != len(ties):
+        return None
+    friends = {person: True for person in village.people()}
+    places = tie_places(ties)
+    found = [places.get((meeting[0], meeting[1]), -1) for meeting in thing if is_pair_of(friends, meeting)]
+    if sorted(found) != list(range(len(ties))):
+        return None
+    return found
+
+
+def tie_places(ties):
+    """The dict from ties, either way round, to their places."""
+    places = {}
+    for place, (one, other) in enumerate(ties):
+        places[(one, other)] = place
+        places[(other, one)] = place
+    return places
+
+
+def meetings_in_order(ties, slates, start):
+    """The first row of all meetings of slates, which may be begun ones, that has start as its beginning."""
+    row = list(start)
+    turns = {person: 0 for person in slates}
+    for one, other in row:
+        turns[one] += 1
+        turns[other] += 1
+    meeting = next_meeting(ties, slates, turns)
+    while meeting is not None:
+        row.append(meeting)
+        for person in meeting:
+            turns[person] += 1
+        meeting = next_meeting(ties, slates, turns)
+    return row
+
+
+def next_meeting(ties, slates, turns):
+    """The first tie whose friends both have one another next, behind so many turns; None if there is none."""
+    for one, other in ties:
+        if next_friend(slates[one], turns[one]) == other and next_friend(slates[other], turns[other]) == one:
+            return (one, other)
+    return None
+
+
+def next_friend(slate, turn):
+    """The friend at a turn of a slate, None behind its end."""
+    if turn < len(slate):
+        return slate[turn]
+    return None
+
+
+def heard_from(slates, person):
+    """The dict of True from those of whom a person has heard, by slates, which may be begun ones."""
+    heard = {person: True}
+    steps = [(person, friend) for friend in slates[person]]
+    while len(steps) > 0:
+        near, one = steps.pop()
+        heard[one] = True
+        slate = slates[one]
+        # only what was told to one ahead of the meeting with near could go on to near
+        for further in slate[:slate.index(near)]:
+            steps.append((one, further))
+    return heard

@@ -1,0 +1,52 @@
+"""Point 2.2 and the interface: the error classes."""
+
+import inspect
+
+from heardsince import errors
+from tests import helper
+
+LISTED = """HeardError, BadPeople(index), BadTies(index), BadNews(index), BadVillage(thing), NoPerson(person),
+NotFriends(one, other), BadCalendar(calendar), BadSlates(slates), BadMany(many), BadTable(table), BadNumber(number),
+BadSome(index), BadLedger(ledger), BadFame(fame), BadBegun(begun), BadLedgers(index), BadGifts(gifts), BadTalks(index),
+BadPart(part), BadBox(box), BadPrices(prices), BadMeeting(meeting), SameMeeting(meeting), BadStart(index),
+BadChooser(thing), BadPlace(place), BadCosts(index), BadPlan(plan), BadDays(days), BadMost(most), BadAway(away),
+BadSpans(spans), BadDates(dates), BadTruth(heard), BadRounds(rounds), BadLot(index)"""
+
+
+def listed():
+    """The names of the error classes with their parameters, as the document's interface lists them."""
+    found = {}
+    for part in LISTED.replace("\n", " ").replace("), ", ");").replace("HeardError, ", "HeardError();").split(";"):
+        name, parameters = part.strip(") ").split("(")
+        found[name] = [one for one in parameters.split(", ") if one]
+    return found
+
+
+class ErrorClasses(helper.Told):
+
+    def test_all_that_are_listed(self):
+        self.assertEqual(len(listed()), 37)
+        own = [name for name, thing in vars(errors).items() if inspect.isclass(thing)]
+        self.assertEqual(own, list(listed()))
+
+    def test_each_directly_beneath_heard_error(self):
+        self.assertEqual(errors.HeardError.__bases__, (ValueError,))
+        for name in listed():
+            if name != "HeardError":
+                self.assertEqual(getattr(errors, name).__bases__, (errors.HeardError,))
+
+    def test_they_keep_the_very_objects(self):
+        for name, parameters in listed().items():
+            kind = getattr(errors, name)
+            for thing in helper.any_objects():
+                things = [[thing], thing][:len(parameters)] if len(parameters) == 2 else [thing][:len(parameters)]
+                for error in (kind(*things), kind(**dict(zip(parameters, things)))):
+                    self.assertEqual(list(vars(error)), parameters)
+                    for parameter, kept in zip(parameters, things):
+                        self.assertIs(getattr(error, parameter), kept)
+
+    def test_they_are_caught_as_heard_error_and_as_value_error(self):
+        for kind in (errors.HeardError, ValueError, errors.NoPerson):
+            with self.assertRaises(kind) as caught:
+                helper.example_village().friends("e")
+            self.assertEqual(caught.exception.person, "e")

@@ -1,0 +1,337 @@
+"""Sections 1 and 2: what holds of every function."""
+
+import copy
+import inspect
+
+from heardsince import (begunledgers, calendars, clashes, errors, ledgerbreaks, ledgers, peopletables, tables, villages)
+from heardsince.villages import Village
+from tests import helper
+from tests.test_ledgers import break_by_words
+
+SLATES = helper.EXAMPLE_SLATES
+CALENDAR = helper.EXAMPLE_CALENDAR
+TABLE = {"a": ["a", "b", "c"], "b": ["a", "b", "c"], "c": ["b", "c", "d"], "d": ["b", "c", "d"]}
+FIRST = {"a": 1, "b": 2, "c": 2, "d": 1}
+THREES = {"a": 3, "b": 3, "c": 3, "d": 3}
+BEGUN = {"a": [], "b": ["c"], "c": ["b", "d"], "d": ["c"]}
+ALIKE = [("b", "c"), ("c", "d"), ("a", "b")]
+
+# of each function right arguments by the names of the parameters; 0 stands for the example's village
+CASES = [
+    (calendars.is_calendar, {"village": 0, "thing": CALENDAR}),
+    (calendars.is_slates, {"village": 0, "thing": SLATES}),
+    (calendars.slates_of, {"village": 0, "calendar": CALENDAR}),
+    (calendars.calendar_of, {"village": 0, "slates": SLATES}),
+    (calendars.are_alike, {"village": 0, "one": CALENDAR, "other": ALIKE}),
+    (calendars.has_heard, {"village": 0, "slates": SLATES, "one": "a", "other": "c"}),
+    (calendars.heard_of, {"village": 0, "slates": SLATES, "person": "a"}),
+    (calendars.heard_by, {"village": 0, "slates": SLATES, "person": "b"}),
+    (calendars.heard_ahead, {"village": 0, "calendar": CALENDAR, "many": 2}),
+    (tables.table, {"village": 0, "slates": SLATES}),
+    (tables.is_table, {"village": 0, "thing": TABLE}),
+    (tables.count_slates, {"village": 0}),
+    (tables.slates_at, {"village": 0, "number": 3}),
+    (tables.slates_number, {"village": 0, "slates": SLATES}),
+    (tables.turned, {"village": 0, "slates": SLATES}),
+    (tables.slates_hearing, {"village": 0, "person": "a", "some": ["a", "b"]}),
+    (clashes.slates_of_table, {"village": 0, "table": TABLE}),
+    (clashes.table_clash, {"village": 0, "table": {**TABLE, "a": ["a", "b", "c", "d"]}}),
+    (peopletables.ties_of_table, {"people": ["a", "b", "c", "d"], "table": TABLE}),
+    (peopletables.people_clash, {"people": ["a", "b", "c", "d"], "table": {**TABLE, "a": ["a", "b", "c", "d"]}}),
+    (ledgers.ledger, {"village": 0, "slates": SLATES}),
+    (ledgers.fame, {"village": 0, "slates": SLATES}),
+    (ledgerbreaks.slates_of_ledger, {"village": 0, "ledger": THREES}),
+    (ledgerbreaks.ledger_break, {"village": 0, "ledger": {**THREES, "d": 5}}),
+    (ledgerbreaks.slates_of_fame, {"village": 0, "fame": {"a": 2, "b": 4, "c": 4, "d": 2}}),
+    (ledgerbreaks.fame_break, {"village": 0, "fame": {**THREES, "d": 5}}),
+    (begunledgers.begun_ledger, {"village": 0, "begun": BEGUN}),
+    (begunledgers.begun_of_ledger, {"village": 0, "ledger": FIRST}),
+    (begunledgers.begun_break, {"village": 0, "ledger": {**FIRST, "c": 1}}),
+    (begunledgers.moments_fault, {"village": 0, "ledgers": [FIRST, {"a": 2, "b": 2, "c": 1, "d": 1}]}),
+    (begunledgers.moments_calendar, {"village": 0, "ledgers": [FIRST, THREES]}),
+]
+METHODS = [
+    ("people", {}), ("ties", {}), ("news", {}), ("friends", {"person": "b"}), ("way", {"one": "a", "other": "c"}),
+    ("behind", {"one": "b", "other": "c"}),
+]
+
+# the error that is due of a parameter, and under which name it keeps the thing; of an index, what it is told for None
+DUE = {
+    "village": (errors.BadVillage, "thing"), "calendar": (errors.BadCalendar, "calendar"),
+    "slates": (errors.BadSlates, "slates"), "person": (errors.NoPerson, "person"), "one": (errors.NoPerson, "person"),
+    "other": (errors.NoPerson, "person"), "many": (errors.BadMany, "many"), "number": (errors.BadNumber, "number"),
+    "table": (errors.BadTable, "table"), "ledger": (errors.BadLedger, "ledger"), "fame": (errors.BadFame, "fame"),
+    "begun": (errors.BadBegun, "begun"), "some": (errors.BadSome, "index"), "people": (errors.BadPeople, "index"),
+    "ledgers": (errors.BadLedgers, "index"), "thing": None,
+}
+
+
+def right(arguments):
+    """Fresh arguments of a case."""
+    return {name: helper.example_village() if name == "village" else copy.deepcopy(thing)
+            for name, thing in arguments.items()}
+
+
+def renamed(thing, names):
+    """A thing with other people's names."""
+    if isinstance(thing, str):
+        return names.get(thing, thing)
+    if isinstance(thing, dict):
+        return {renamed(key, names): renamed(part, names) for key, part in thing.items()}
+    if isinstance(thing, (list, tuple)):
+        return type(thing)(renamed(part, names) for part in thing)
+    return thing
+
+
+def other_case(arguments):
+    """The same of a village with other names, in which all else is as in the example."""
+    names = {"a": "q1", "b": "q2", "c": "q3", "d": "q4"}
+    village = Village(["q1", "q2", "q3", "q4"], [("q1", "q2"), ("q2", "q3"), ("q3", "q4")], [1] * 4)
+    return {name: village if name == "village" else renamed(thing, names) for name, thing in arguments.items()}, names
+
+
+def spoilt(thing):
+    """Changes all lists and dicts within a thing."""
+    if isinstance(thing, (list, tuple)):
+        for part in thing:
+            spoilt(part)
+    if isinstance(thing, dict):
+        for part in thing.values():
+            spoilt(part)
+        thing.clear()
+        thing["spoilt"] = 1
+    if isinstance(thing, list):
+        thing[:] = ["spoilt"] * 3
+
+
+def objects(thing):
+    """All lists and dicts within a thing."""
+    if isinstance(thing, dict):
+        return [thing] + [part for value in thing.values() for part in objects(value)]
+    if isinstance(thing, (list, tuple)):
+        return ([thing] if isinstance(thing, list) else []) + [part for value in thing for part in objects(value)]
+    return []
+
+
+def is_due(function, name):
+    """The error that is due of a parameter of a function, None if it may be any object."""
+    if function is calendars.are_alike and name != "village":
+        return (errors.BadCalendar, "calendar")
+    return DUE[name]
+
+
+class Calls(helper.Told):
+    """2.1: what holds of all calls."""
+
+    def test_all_functions_of_the_modules_are_here(self):
+        for module in (calendars, clashes, tables, peopletables, ledgers, ledgerbreaks, begunledgers):
+            listed = [function.__name__ for function, arguments in CASES if function.__module__ == module.__name__]
+            self.assertGreater(len(listed), 1)
+            for name in listed:
+                self.assertIs(inspect.getmodule(getattr(module, name)), module)
+
+    def test_by_place_or_by_name(self):
+        for function, arguments in CASES:
+            told = repr(function(*right(arguments).values()))
+            self.assertEqual(repr(function(**right(arguments))), told)
+            self.assertEqual(repr(function(**dict(reversed(right(arguments).items())))), told)
+            self.assertEqual(list(inspect.signature(function).parameters), list(arguments))
+        for name, arguments in METHODS:
+            method = getattr(helper.example_village(), name)
+            self.assertEqual(repr(method(**arguments)), repr(method(*arguments.values())))
+            self.assertEqual(list(inspect.signature(method).parameters), list(arguments))
+
+    def test_tuples_for_lists_and_lists_for_tuples(self):
+        for function, arguments in CASES:
+            told = repr(function(**right(arguments)))
+            for change in (helper.as_tuples, helper.as_lists):
+                self.assertEqual(repr(function(**{name: change(thing) for name, thing in right(arguments).items()})), told)
+
+    def test_dicts_in_any_order(self):
+        for function, arguments in CASES:
+            told = repr(function(**right(arguments)))
+            about = right(arguments)
+            for name, thing in about.items():
+                if isinstance(thing, dict):
+                    about[name] = dict(reversed(thing.items()))
+                if name == "ledgers":
+                    about[name] = [dict(reversed(one.items())) for one in thing]
+            self.assertEqual(repr(function(**about)), told)
+
+    def test_arguments_are_not_changed(self):
+        for function, arguments in CASES:
+            passed = right(arguments)
+            ahead = {name: repr(thing) for name, thing in passed.items() if name != "village"}
+            told = function(**passed)
+            spoilt(told)
+            self.assertEqual({name: repr(passed[name]) for name in ahead}, ahead, function)
+            self.assertEqual(passed.get("village", helper.example_village()), helper.example_village())
+
+    def test_later_changes_have_no_effect(self):
+        for function, arguments in CASES:
+            passed = right(arguments)
+            told = function(**passed)
+            ahead = repr(told)
+            spoilt([thing for name, thing in passed.items() if name != "village"])
+            self.assertEqual(repr(told), ahead)
+
+    def test_lists_and_dicts_are_new_ones_each_time(self):
+        for function, arguments in CASES:
+            passed = right(arguments)
+            told, again = function(**passed), function(**passed)
+            every = objects(told) + objects(again) + objects(list(passed.values()))[1:]
+            self.assertEqual(len({id(thing) for thing in every}), len(every), function)
+            ahead = repr(again)
+            spoilt(told)
+            self.assertEqual(repr(again), ahead)
+            self.assertEqual(repr(function(**passed)), ahead)
+
+    def test_all_answers_of_small_villages_have_no_list_twice(self):
+        for village in helper.villages(4):
+            for slates in helper.all_slates(village):
+                calendar = calendars.calendar_of(village, slates)
+                for told in (calendars.slates_of(village, calendar), tables.table(village, slates),
+                             calendars.heard_ahead(village, calendar, len(calendar)), tables.turned(village, slates),
+                             ledgerbreaks.slates_of_ledger(village, ledgers.ledger(village, slates))):
+                    every = objects(told)
+                    self.assertEqual(len({id(thing) for thing in every}), len(every))
+                    self.assertEqual(list(told), village.people())
+
+    def test_two_cases_in_turns(self):
+        for function, arguments in CASES:
+            other, names = other_case(arguments)
+            told = repr(function(**right(arguments)))
+            told_of_other = repr(renamed(function(**right(arguments)), names))
+            for _ in range(2):
+                self.assertEqual(repr(function(**other)), told_of_other)
+                self.assertEqual(repr(function(**right(arguments))), told)
+
+    def test_two_villages_that_differ_in_one_thing_in_turns(self):
+        news = Village(list("abcd"), helper.EXAMPLE_TIES, [1, 1, 1, 2])
+        order = Village(list("dcba"), helper.EXAMPLE_TIES, [1] * 4)
+        ties = Village(list("abcd"), [("c", "d"), ("b", "c"), ("a", "b")], [1] * 4)
+        for _ in range(2):
+            self.assertTold(ledgers.ledger(helper.example_village(), SLATES), THREES)
+            self.assertTold(ledgers.ledger(news, SLATES), {"a": 3, "b": 3, "c": 4, "d": 4})
+            self.assertTold(calendars.heard_of(helper.example_village(), SLATES, "a"), ["a", "b", "c"])
+            self.assertTold(calendars.heard_of(order, SLATES, "a"), ["c", "b", "a"])
+            self.assertTold(calendars.calendar_of(helper.example_village(), SLATES), CALENDAR)
+            self.assertTold(calendars.calendar_of(ties, SLATES), [("b", "c"), ("c", "d"), ("a", "b")])
+
+    def test_questions_are_answered_by_true_or_false(self):
+        for function, arguments in CASES:
+            if function.__name__.startswith("is_") or function.__name__ in ("are_alike", "has_heard"):
+                self.assertIs(function(**right(arguments)), True)
+
+    def test_villages_do_not_change(self):
+        village = helper.example_village()
+        for function, arguments in CASES:
+            passed = right(arguments)
+            if "village" in passed:
+                function(**{**passed, "village": village})
+        self.assertEqual(village, helper.example_village())
+        for name, arguments in METHODS:
+            getattr(village, name)(**arguments).append("more")
+        self.assertEqual(village, helper.example_village())
+        self.assertTold(village.friends("b"), ["a", "c"])
+
+
+class ErrorsDue(helper.Told):
+    """2.2: which error is raised, what it keeps, and that nothing is changed."""
+
+    def wrong_for(self, name):
+        return [thing for thing in helper.any_objects()
+                if not (name == "village" and isinstance(thing, Village))
+                and not (name in ("some",) and isinstance(thing, (list, tuple)))
+                and not (name in ("people", "ledgers") and isinstance(thing, (list, tuple)) and len(thing) > 0)]
+
+    def test_each_parameter(self):
+        for function, arguments in CASES:
+            for name in arguments:
+                if is_due(function, name) is not None:
+                    for thing in self.wrong_for(name):
+                        self.due(function, name, {**right(arguments), name: thing})
+
+    def due(self, function, name, passed):
+        kind, attribute = is_due(function, name)
+        self.assertRaisesJust(kind, {attribute: 0 if attribute == "index" else passed[name]}, function, **passed)
+
+    def test_the_first_parameter_goes_first(self):
+        for function, arguments in CASES:
+            names = [name for name in arguments if is_due(function, name) is not None]
+            for place, name in enumerate(names):
+                later = {behind: None for behind in names[place + 1:]}
+                for thing in (None, 7.5, "?", -1):
+                    self.due(function, name, {**right(arguments), **later, name: thing})
+
+    def test_errors_change_nothing(self):
+        for function, arguments in CASES:
+            names = [name for name in arguments if is_due(function, name) is not None]
+            told = repr(function(**right(arguments)))
+            for name in names:
+                passed = {**right(arguments), name: ["?"]}
+                ahead = {one: repr(thing) for one, thing in passed.items() if one != "village"}
+                with self.assertRaises(errors.HeardError):
+                    function(**passed)
+                self.assertEqual({one: repr(passed[one]) for one in ahead}, ahead)
+                if name != "village":
+                    self.assertEqual(passed.get("village", helper.example_village()), helper.example_village())
+            self.assertEqual(repr(function(**right(arguments))), told)
+
+    def test_what_is_refused_may_be_long(self):
+        village = helper.example_village()
+        many = [("a", "b")] * 100000
+        self.assertRaisesJust(errors.BadCalendar, {"calendar": many}, calendars.slates_of, village, many)
+        self.assertRaisesJust(errors.BadTies, {"index": 1}, Village, ["a", "b"], many, [1, 1])
+        long = {**SLATES, "b": ["a", "c"] * 50000}
+        self.assertRaisesJust(errors.BadSlates, {"slates": long}, calendars.calendar_of, village, long)
+        wide = {number: [] for number in range(100000)}
+        self.assertRaisesJust(errors.BadTable, {"table": wide}, clashes.table_clash, village, wide)
+        self.assertRaisesJust(errors.BadSome, {"index": 4}, tables.slates_hearing, village, "a", list("abcd") * 20000)
+
+    def test_what_was_told_may_be_passed_on(self):
+        village = helper.row_village(60, [10 ** 15] * 60)
+        slates = helper.drawn_slates(village, 23)
+        numbers = ledgers.ledger(village, slates)
+        great = {one: numbers[one] * 10 ** 40 for one in numbers}
+        fault = break_by_words(village, great, {one: 10 ** 15 for one in numbers})
+        self.assertTold(ledgerbreaks.ledger_break(village, great), fault)
+        self.assertGreater(fault[1], 10 ** 50)
+        rich = Village(village.people(), village.ties(), [10 ** 50] * 60)
+        self.assertTold(ledgerbreaks.slates_of_ledger(rich, ledgers.ledger(rich, slates)), slates)
+
+
+class WhatItIs(helper.Told):
+    """1.1 and 1.2: the one rule, and that the numbers alone tell all."""
+
+    def test_the_one_rule(self):
+        for village in helper.villages(4) + helper.some_villages(5, 3, 24):
+            for calendar in helper.all_calendars(village):
+                slates = calendars.slates_of(village, calendar)
+                times = {frozenset(meeting): time for time, meeting in enumerate(calendar)}
+                for one in village.people():
+                    for other in village.people():
+                        row = helper.way(village, other, one)
+                        held = [times[frozenset(door)] for door in zip(row, row[1:])]
+                        self.assertIs(calendars.has_heard(village, slates, one, other), held == sorted(held))
+
+    def test_there_and_back_by_table_and_numbers(self):
+        for seed, village in enumerate(helper.some_villages(12, 40, 25, 50)):
+            slates = helper.drawn_slates(village, seed)
+            self.assertTold(clashes.slates_of_table(village, tables.table(village, slates)), slates)
+            self.assertTold(ledgerbreaks.slates_of_ledger(village, ledgers.ledger(village, slates)), slates)
+            self.assertTold(ledgerbreaks.slates_of_fame(village, ledgers.fame(village, slates)), slates)
+            self.assertTold(begunledgers.begun_of_ledger(village, begunledgers.begun_ledger(village, slates)), slates)
+
+
+class KeptObjects(helper.Told):
+    """2.1 and 2.2: villages equal none of another class, whatever stands on either side."""
+
+    def test_a_village_among_other_things(self):
+        village = helper.example_village()
+        for thing in helper.any_objects():
+            self.assertIs(village == thing, False)
+            self.assertIs(thing == village, False)
+            self.assertIs(village in [thing], False)
+        self.assertIs(village == helper.example_village(), True)
+        self.assertTrue(villages.Village is Village)
