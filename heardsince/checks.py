@@ -52,7 +52,7 @@ def first_wrong(known, thing):
 
 def is_some_of(known, thing):
     """Whether a thing is a list of unlike ones of a list of strings."""
-    return is_list(thing) and first_wrong(known, thing) is None
+    return first_wrong(known, thing) is None
 
 
 def is_all_of(known, thing):

@@ -91,12 +91,12 @@ def is_front(front, further_in, begun):
 def gone_through(own, pairs, front):
     """The place among pairs of the friend further in, who gave front, and the sum given there; None if none is right.
 
-    With a front that is not above 0 nobody further in is looked for, and the place is behind all.
+    A front of 0, by which nobody further in was met, makes no gap in the sums good: its place is behind all.
     """
     total = own
     found = None
     for place, (given, gave) in enumerate(pairs):
-        if given != total and found is None and front > 0:
+        if given != total and found is None:
             # where the sum is not what the next friend was given, nobody but the friend further in can stand ahead
             found = (place, total)
             total += front

@@ -66,7 +66,7 @@ def slates_hearing(village, person, some):
     check_village(village)
     check_person(village, person)
     check_some(village, some)
-    if not hang_together(village, some) or not all([one in some for one in [person] + village.friends(person)]):
+    if not all([one in some for one in [person] + village.friends(person)]) or not hang_together(village, some):
         return 0
     inward = inward_from(village, person)
     many = 1
@@ -88,10 +88,10 @@ def check_some(village, some):
 
 
 def hang_together(village, some):
-    """Whether all on the ways between some people are among them."""
+    """Whether all on the ways between some people, one or more, are among them."""
     # without rings, people are joined among themselves just if their ties are one fewer than they
     inside = [tie for tie in village.ties() if tie[0] in some and tie[1] in some]
-    return len(some) == 0 or len(inside) == len(some) - 1
+    return len(inside) == len(some) - 1
 
 
 def row_at(names, place):

@@ -45,6 +45,12 @@ class Calendars(helper.Told):
                 right = len({frozenset(tie) for tie in row}) == len(row)
                 self.assertIs(is_calendar(village, list(row)), right)
 
+    def test_all_rows_of_pairs(self):
+        people = helper.EXAMPLE_PEOPLE
+        for row in itertools.product(itertools.product(people, repeat=2), repeat=3):
+            right = sorted(tuple(sorted(pair)) for pair in row) == helper.EXAMPLE_TIES
+            self.assertIs(is_calendar(EXAMPLE, row), right)
+
     def test_is_slates(self):
         self.assertIs(is_slates(EXAMPLE, SLATES), True)
         self.assertIs(is_slates(EXAMPLE, {"d": ("c",), "c": ["b", "d"], "a": ("b",), "b": ("a", "c")}), True)

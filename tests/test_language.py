@@ -86,7 +86,8 @@ class Language(unittest.TestCase):
             ended |= ready
             seen = {name: needed for name, needed in seen.items() if name not in ready}
 
-    def test_statements_and_expressions_outside_the_language(self):
+    def test_what_the_package_does_without(self):
+        # some of these are barred, the others may stand in few places that would each have to be looked at
         for file, node in self.nodes(ast.Global, ast.AsyncFunctionDef, ast.Await, ast.GeneratorExp, ast.Yield,
                                      ast.Set, ast.SetComp, ast.Div, ast.JoinedStr, ast.Try, ast.NamedExpr):
             self.fail((file, node.lineno, node))
