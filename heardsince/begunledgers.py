@@ -19,13 +19,13 @@ def begun_ledger(village, begun):
 def begun_of_ledger(village, ledger):
     """The begun slates with this ledger, None if there are none."""
     check_ledger(village, ledger)
-    return slates_and_break(village, ledger, own_news(village), True)[0]
+    return slates_and_break(village, village.people()[0], ledger, own_news(village), True)[0]
 
 
 def begun_break(village, ledger):
     """None, or the triple (person, front, pairs) of the first person, in rim order, who does not fit."""
     check_ledger(village, ledger)
-    return slates_and_break(village, ledger, own_news(village), True)[1]
+    return slates_and_break(village, village.people()[0], ledger, own_news(village), True)[1]
 
 
 def moments_fault(village, ledgers):
@@ -72,7 +72,7 @@ def moments_and_fault(village, ledgers):
     moments = []
     ahead = {person: [] for person in village.people()}
     for index, numbers in enumerate(ledgers):
-        begun = slates_and_break(village, numbers, news, True)[0]
+        begun = slates_and_break(village, village.people()[0], numbers, news, True)[0]
         if begun is None:
             return None, ("break", index)
         if not all([begun[person][:len(ahead[person])] == ahead[person] for person in ahead]):

@@ -1,6 +1,6 @@
 """Calendars, the order of all meetings, and slates, the order of each person's own; who has heard of whom by them."""
 
-from heardsince.checks import is_all_of, is_dict_of, is_list, is_number, is_pair_of
+from heardsince.checks import is_all_of, is_dict_of, is_list, is_number
 from heardsince.errors import BadCalendar, BadMany, BadSlates
 from heardsince.villages import check_person, check_village
 
@@ -22,11 +22,7 @@ def is_slates(village, thing):
 def slates_of(village, calendar):
     """The slates of a calendar."""
     check_calendar(village, calendar)
-    slates = {person: [] for person in village.people()}
-    for one, other in calendar:
-        slates[one].append(other)
-        slates[other].append(one)
-    return slates
+    return rows_of(village.people(), calendar)
 
 
 def calendar_of(village, slates):
@@ -95,12 +91,18 @@ def calendar_places(village, thing):
     ties = village.ties()
     if not is_list(thing) or len(thing) != len(ties):
         return None
-    friends = {person: True for person in village.people()}
     places = tie_places(ties)
-    found = [places.get((meeting[0], meeting[1]), -1) for meeting in thing if is_pair_of(friends, meeting)]
-    if sorted(found) != list(range(len(ties))):
+    found = [meeting_place(places, meeting) for meeting in thing]
+    if None in found or sorted(found) != list(range(len(ties))):
         return None
     return found
+
+
+def meeting_place(places, thing):
+    """The place of a meeting, either way round, by tie_places; None for what is no meeting."""
+    if not is_list(thing) or len(thing) != 2 or not all([isinstance(part, str) for part in thing]):
+        return None
+    return places.get((thing[0], thing[1]), None)
 
 
 def tie_places(ties):
@@ -112,46 +114,68 @@ def tie_places(ties):
     return places
 
 
+def rows_of(people, meetings):
+    """The dict from people to the lists of those whom they meet, in order, by these meetings."""
+    rows = {person: [] for person in people}
+    for one, other in meetings:
+        rows[one].append(other)
+        rows[other].append(one)
+    return rows
+
+
 def meetings_in_order(ties, slates, start):
     """The first row of all meetings of slates, which may be begun ones, that has start as its beginning."""
     row = list(start)
-    turns = {person: 0 for person in slates}
-    for one, other in row:
-        turns[one] += 1
-        turns[other] += 1
-    meeting = next_meeting(ties, slates, turns)
-    while meeting is not None:
-        row.append(meeting)
-        for person in meeting:
+    turns = turns_behind(slates, row)
+    ready = ready_meetings(ties, slates, turns)
+    while len(ready) > 0:
+        row.append(ready[0])
+        for person in ready[0]:
             turns[person] += 1
-        meeting = next_meeting(ties, slates, turns)
+        ready = ready_meetings(ties, slates, turns)
     return row
 
 
-def next_meeting(ties, slates, turns):
-    """The first tie whose friends both have one another next, behind so many turns; None if there is none."""
-    for one, other in ties:
-        if next_friend(slates[one], turns[one]) == other and next_friend(slates[other], turns[other]) == one:
-            return (one, other)
-    return None
+def turns_behind(slates, meetings):
+    """The dict from people to how many meetings they have had behind these."""
+    turns = {person: 0 for person in slates}
+    for one, other in meetings:
+        turns[one] += 1
+        turns[other] += 1
+    return turns
 
 
-def next_friend(slate, turn):
-    """The friend at a turn of a slate, None behind its end."""
-    if turn < len(slate):
-        return slate[turn]
-    return None
+def ready_meetings(ties, slates, turns):
+    """The list of the ties whose friends both have one another next, behind so many turns."""
+    return [(one, other) for one, other in ties
+            if has_next(slates[one], turns[one], other) and has_next(slates[other], turns[other], one)]
+
+
+def has_next(slate, turn, friend):
+    """Whether a friend stands at a turn of a slate."""
+    return turn < len(slate) and slate[turn] == friend
 
 
 def heard_from(slates, person):
     """The dict of True from those of whom a person has heard, by slates, which may be begun ones."""
+    return heard_by_way_of(slates, person, slates[person])
+
+
+def told_from(slates, one, other):
+    """The dict of True from those whose news one tells other at their meeting."""
+    slate = slates[one]
+    # only what was told to one ahead of the meeting with other could go on to other
+    return heard_by_way_of(slates, one, slate[:slate.index(other)])
+
+
+def heard_by_way_of(slates, person, friends):
+    """The dict of True from a person and those of whom the person has heard from some friends."""
     heard = {person: True}
-    steps = [(person, friend) for friend in slates[person]]
+    steps = [(person, friend) for friend in friends]
     while len(steps) > 0:
         near, one = steps.pop()
         heard[one] = True
         slate = slates[one]
-        # only what was told to one ahead of the meeting with near could go on to near
         for further in slate[:slate.index(near)]:
             steps.append((one, further))
     return heard

@@ -3,25 +3,25 @@
 from heardsince.checks import is_numbers_of
 from heardsince.errors import BadFame, BadLedger
 from heardsince.tables import turned
-from heardsince.villages import check_village, inward_from, own_news
+from heardsince.villages import check_village, doors_inward, inward_from, own_news
 
 
 def slates_of_ledger(village, ledger):
     """The slates with this ledger, None if there are none."""
     check_ledger(village, ledger)
-    return slates_and_break(village, ledger, own_news(village), False)[0]
+    return slates_and_break(village, village.people()[0], ledger, own_news(village), False)[0]
 
 
 def ledger_break(village, ledger):
     """None, or the triple (person, front, pairs) of the first person, in rim order, who does not fit."""
     check_ledger(village, ledger)
-    return slates_and_break(village, ledger, own_news(village), False)[1]
+    return slates_and_break(village, village.people()[0], ledger, own_news(village), False)[1]
 
 
 def slates_of_fame(village, fame):
     """The slates with this fame, None if there are none."""
     check_fame(village, fame)
-    slates = slates_and_break(village, fame, one_each(village), False)[0]
+    slates = slates_and_break(village, village.people()[0], fame, one_each(village), False)[0]
     if slates is None:
         return None
     # fame is the ledger of slates turned about, each with one news
@@ -31,7 +31,7 @@ def slates_of_fame(village, fame):
 def fame_break(village, fame):
     """The ledger_break of fame with own news 1 for all."""
     check_fame(village, fame)
-    return slates_and_break(village, fame, one_each(village), False)[1]
+    return slates_and_break(village, village.people()[0], fame, one_each(village), False)[1]
 
 
 def check_ledger(village, ledger):
@@ -55,54 +55,73 @@ def one_each(village):
 
 def rim_order(village, inward):
     """The people, those farthest from the middle first; inward tells the friend further in, near ones first."""
-    doors = {}
-    for person in inward:
-        doors[person] = 0 if inward[person] is None else doors[inward[person]] + 1
+    doors = doors_inward(inward)
     return sorted(village.people(), key=lambda one: -doors[one])
 
 
-def slates_and_break(village, numbers, news, begun):
-    """Slates (begun ones, if begun is True) by which these numbers of news are known, and None; or None and a break."""
-    inward = inward_from(village, village.people()[0])
+def slates_and_break(village, middle, numbers, news, begun):
+    """Slates (begun ones, if begun is True) by which these numbers of news are known, and None; or None and a break.
+
+    The number of middle, who stands in the place of the village's first person, may lack.
+    """
+    def stand(person, further_in, pairs):
+        front = None
+        if person in numbers:
+            front = numbers[person] - news[person] - sum([gave for given, gave in pairs])
+        if not is_front(front, further_in, begun):
+            return front, None
+        # of a number that lacks, and of a front of 0, nobody further in makes the sums good
+        return front, gone_through(news[person], pairs, lambda total: total + (front or 0))
+
+    return from_the_rims(village, middle, stand)
+
+
+def from_the_rims(village, middle, stand):
+    """Slates and None, or None and a break, by a function that tells of each person how they stand.
+
+    It is asked of a person, their friend further in (None for middle) and the pairs of their friends behind, and tells
+    what a break has of the person, and where the friend further in stands: (place, given, gave), None who does not fit.
+    """
+    inward = inward_from(village, middle)
     gifts = {person: [] for person in inward}
     slates = {}
     for person in rim_order(village, inward):
         told = sorted(gifts[person])
         pairs = [(given, gave) for given, gave, friend in told]
-        front = numbers[person] - news[person] - sum([gave for given, gave in pairs])
-        place_and_sum = gone_through(news[person], pairs, front)
-        if place_and_sum is None or not is_front(front, inward[person], begun):
-            return None, (person, front, pairs)
+        shown, standing = stand(person, inward[person], pairs)
+        if standing is None:
+            return None, (person, shown, pairs)
         slates[person] = [friend for given, gave, friend in told]
+        place, given_further_in, front = standing
+        # who gave nothing was not met, or is nobody: there is none further in than middle
         if front > 0:
-            place, total = place_and_sum
             slates[person].insert(place, inward[person])
-            gifts[inward[person]].append((front, total, person))
+            gifts[inward[person]].append((front, given_further_in, person))
     return {person: slates[person] for person in village.people()}, None
 
 
 def is_front(front, further_in, begun):
     """Whether a front can be what the friend further in gave; begun tells whether this one may not have been met."""
     if further_in is None:
-        return front == 0
+        return front is None or front == 0
     return front > 0 or (begun and front == 0)
 
 
-def gone_through(own, pairs, front):
-    """The place among pairs of the friend further in, who gave front, and the sum given there; None if none is right.
+def gone_through(own, pairs, grown):
+    """The triple (place, given, gave) of the friend further in among pairs; None if there is no right place.
 
-    A front of 0, by which nobody further in was met, makes no gap in the sums good: its place is behind all.
+    grown tells, of the sum that the friend further in is given, to which sum it grows by what they gave.
     """
     total = own
     found = None
     for place, (given, gave) in enumerate(pairs):
         if given != total and found is None:
             # where the sum is not what the next friend was given, nobody but the friend further in can stand ahead
-            found = (place, total)
-            total += front
+            found = (place, total, grown(total) - total)
+            total = grown(total)
         if given != total:
             return None
         total += gave
     if found is None:
-        return len(pairs), total
+        return len(pairs), total, grown(total) - total
     return found

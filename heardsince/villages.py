@@ -131,17 +131,17 @@ def join_parts(parts, one, other):
 
 def check_news(people, news):
     """Raises BadNews for what is no list of one integer from 1 on for each of the people."""
-    index = first_bad_amount(len(people), news)
+    index = first_bad_amount(len(people), news, 1)
     if index is not None:
         raise BadNews(index)
 
 
-def first_bad_amount(many, amounts):
-    """The index of what is no list of so many integers from 1 on, None if it is one."""
+def first_bad_amount(many, amounts, least):
+    """The first index at which a thing is no list of so many integers from the least on, None if it is one."""
     if not is_list(amounts):
         return 0
     for index, amount in enumerate(amounts):
-        if index >= many or not is_integer(amount) or amount < 1:
+        if index >= many or not is_integer(amount) or amount < least:
             return index
     if len(amounts) < many:
         return len(amounts)
@@ -159,17 +159,34 @@ def friends_by_ties(people, ties):
 
 def inward_from(village, middle):
     """The dict from all people to their friend on the way to middle, None for middle itself; near ones first."""
-    inward = {middle: None}
+    return toward_from({person: village.friends(person) for person in village.people()}, middle)
+
+
+def toward_from(beside, middle):
+    """The dict from all that are joined to middle to the next one on the way there, None for middle; near ones first.
+
+    beside has those next to each, and no rings.
+    """
+    toward = {middle: None}
     near = [middle]
     while len(near) > 0:
         further = []
-        for person in near:
-            for friend in village.friends(person):
-                if friend not in inward:
-                    inward[friend] = person
-                    further.append(friend)
+        for here in near:
+            for one in beside[here]:
+                if one not in toward:
+                    toward[one] = here
+                    further.append(one)
         near = further
-    return inward
+    return toward
+
+
+def doors_inward(inward):
+    """The dict from all people to how many doors they are from the middle; inward as inward_from tells it."""
+    doors = {}
+    for person in inward:
+        # near ones stand first
+        doors[person] = 0 if inward[person] is None else doors[inward[person]] + 1
+    return doors
 
 
 def own_news(village):

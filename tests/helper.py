@@ -4,7 +4,8 @@ import itertools
 import random
 import unittest
 
-from heardsince import errors
+from heardsince import errors, refusals
+from heardsince.desks import Desk
 from heardsince.villages import Village
 
 NAMES = ["b", "a", "d", "c", "x9", "longname"]
@@ -48,7 +49,14 @@ def any_objects():
         {("a", "b"): 1}, {len: len}, lambda: 3, any_objects, len, Village, errors.HeardError,
         errors.BadPeople(3), errors.HeardError(), Village(["a"], [], [1]), Village(["a", "b"], [("b", "a")], [1, 2]),
         [Village(["a"], [], [1])], {"a": Village(["a"], [], [1])}, deep("list"), deep("tuple"), deep("dict"),
+        Desk(Village(["a", "b"], [("a", "b")], [1, 1])), [Desk(Village(["a"], [], [1]))], refusals.BadWeek(3),
+        refusals.NoGoBetween("a", []), {errors.BadDays(1): 2},
     ]
+
+
+def no_functions():
+    """Those of any_objects that are no functions and no classes."""
+    return [thing for thing in any_objects() if not callable(thing)]
 
 
 def trees(people):
@@ -151,6 +159,28 @@ def simulated(village, meetings):
         both = heard[one] | heard[other]
         heard[one] = heard[other] = both
     return heard
+
+
+def gifts_by_hand(village, slates):
+    """The lots of people whose news each one told each friend, as sets, by letting the meetings happen."""
+    heard = {person: {person} for person in village.people()}
+    told = {}
+    for one, other in any_calendar(village, slates):
+        told[one, other] = heard[one]
+        told[other, one] = heard[other]
+        heard[one] = heard[other] = heard[one] | heard[other]
+    return told
+
+
+def pairs_of_friends(village):
+    """All pairs of friends, by one, then by other, in the village's order."""
+    near = friends(village)
+    return [(one, other) for one in village.people() for other in near[one]]
+
+
+def subsets(things):
+    """All lists of some of the things, in their order."""
+    return [list(some) for many in range(len(things) + 1) for some in itertools.combinations(things, many)]
 
 
 def in_order(village, heard):

@@ -25,10 +25,43 @@ FUNCTIONS = {
     "begunledgers": {
         "begun_ledger": "village begun", "begun_of_ledger": "village ledger", "begun_break": "village ledger",
         "moments_fault": "village ledgers", "moments_calendar": "village ledgers"},
+    "gifts": {"gift": "village slates one other", "gifts": "village slates", "talks": "village slates"},
+    "giftbreaks": {
+        "slates_of_gifts": "village gifts", "gift_break": "village gifts", "slates_of_talks": "village talks",
+        "talks_break": "village talks"},
+    "tellings": {
+        "told_at": "village slates one other", "lots_at": "village one other",
+        "slates_telling": "village one other some", "gift_counts": "village one other",
+        "number_counts": "village person"},
+    "lacking": {
+        "missing_number": "village part", "part_break": "village part", "suspects": "village ledger",
+        "slates_by_part": "village part", "sure_by_part": "village part"},
+    "inboxes": {
+        "slates_in_box": "village box", "count_in_box": "village box", "numbers_in_box": "village box",
+        "sure_in_box": "village box"},
+    "nearest": {
+        "fewest_wrong": "village ledger", "nearest": "village ledger", "cheapest": "village ledger prices"},
+    "calendarcounts": {
+        "count_calendars": "village slates", "place_counts": "village slates meeting",
+        "mean_place": "village slates meeting", "ahead_word": "village slates one other",
+        "surely_ahead": "village slates meeting", "surely_behind": "village slates meeting",
+        "ahead_chance": "village slates one other"},
+    "calendarnumbers": {
+        "calendar_at": "village slates number", "calendar_number": "village calendar",
+        "next_calendar": "village calendar", "last_calendar": "village slates",
+        "count_begun": "village slates start", "next_meetings": "village slates start",
+        "drawn_calendar": "village slates chooser"},
 }
 VILLAGE = {
     "__init__": "self people ties news", "people": "self", "ties": "self", "news": "self", "friends": "self person",
     "way": "self one other", "behind": "self one other", "__eq__": "self other"}
+DESK = {
+    "__init__": "self village", "__eq__": "self other", "village": "self", "held": "self", "watched": "self",
+    "do": "self deed", "is_question": "self thing", "answer": "self question", "way_on": "self one other",
+    "barred_at": "self one other", "best_on": "self person", "would": "self deed", "free_meetings": "self",
+    "count": "self", "undo": "self", "again": "self", "deeds": "self", "at": "self number", "copy": "self",
+    "trial": "self work"}
+CLASSES = (("villages", "Village", VILLAGE), ("desks", "Desk", DESK))
 
 
 def parameters(function):
@@ -51,8 +84,9 @@ class Interface(unittest.TestCase):
             own = defined(self.tree(name).body)
             self.assertEqual({function: own.get(function) for function in functions}, functions)
 
-    def test_village_stands_in_its_file_with_its_methods(self):
-        classes = [part for part in self.tree("villages").body if isinstance(part, ast.ClassDef)]
-        self.assertEqual([one.name for one in classes], ["Village"])
-        own = defined(classes[0].body)
-        self.assertEqual({method: own.get(method) for method in VILLAGE}, VILLAGE)
+    def test_classes_stand_in_their_files_with_their_methods(self):
+        for name, title, methods in CLASSES:
+            classes = [part for part in self.tree(name).body if isinstance(part, ast.ClassDef)]
+            self.assertEqual([one.name for one in classes], [title])
+            own = defined(classes[0].body)
+            self.assertEqual({method: own.get(method) for method in methods}, methods)

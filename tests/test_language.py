@@ -89,12 +89,34 @@ class Language(unittest.TestCase):
     def test_what_the_package_does_without(self):
         # some of these are barred, the others may stand in few places that would each have to be looked at
         for file, node in self.nodes(ast.Global, ast.AsyncFunctionDef, ast.Await, ast.GeneratorExp, ast.Yield,
-                                     ast.Set, ast.SetComp, ast.Div, ast.JoinedStr, ast.Try, ast.NamedExpr):
+                                     ast.Set, ast.SetComp, ast.Div, ast.JoinedStr, ast.ExceptHandler, ast.NamedExpr):
             self.fail((file, node.lineno, node))
         for file, node in self.nodes(ast.FunctionDef, ast.ClassDef):
             self.assertEqual(node.decorator_list, [], (file, node.name))
         for file, node in self.nodes(ast.Constant):
             self.assertNotIsInstance(node.value, (float, complex, bytes), file)
+
+    def test_finally_only_puts_names_back(self):
+        for file, node in self.nodes(ast.Try):
+            self.assertEqual((node.handlers, node.orelse), ([], []), file)
+            for row in node.finalbody:
+                self.assertIsInstance(row, ast.Assign, (file, row.lineno))
+                for part in ast.walk(row):
+                    self.assertIsInstance(part, (ast.Assign, ast.Tuple, ast.Name, ast.Attribute, ast.expr_context),
+                                          (file, row.lineno))
+
+    def test_lists_and_dicts_of_the_modules_are_only_read(self):
+        for file, text in self.files():
+            tree = ast.parse(text)
+            kept = {part.targets[0].id for part in tree.body
+                    if isinstance(part, ast.Assign) and isinstance(part.value, (ast.List, ast.Dict))}
+            parents = {child: node for node in ast.walk(tree) for child in ast.iter_child_nodes(node)}
+            for node in ast.walk(tree):
+                if isinstance(node, ast.Name) and node.id in kept and isinstance(node.ctx, ast.Load):
+                    parent = parents[node]
+                    copied = isinstance(parent, ast.Call) and getattr(parent.func, "id", "") in ("list", "dict", "len")
+                    read = isinstance(parent, (ast.Subscript, ast.Compare))
+                    self.assertTrue(copied or read, (file, node.lineno))
 
     def test_is_with_none_true_and_false(self):
         for file, node in self.nodes(ast.Compare):

@@ -3,7 +3,10 @@
 import copy
 import inspect
 
-from heardsince import (begunledgers, calendars, clashes, errors, ledgerbreaks, ledgers, peopletables, tables, villages)
+from heardsince import (begunledgers, calendarcounts, calendarnumbers, calendars, clashes, errors, giftbreaks, gifts,
+                        inboxes, lacking, ledgerbreaks, ledgers, nearest, peopletables, refusals, tables, tellings,
+                        villages)
+from heardsince.desks import Desk
 from heardsince.villages import Village
 from tests import helper
 from tests.test_ledgers import break_by_words
@@ -15,6 +18,17 @@ FIRST = {"a": 1, "b": 2, "c": 2, "d": 1}
 THREES = {"a": 3, "b": 3, "c": 3, "d": 3}
 BEGUN = {"a": [], "b": ["c"], "c": ["b", "d"], "d": ["c"]}
 ALIKE = [("b", "c"), ("c", "d"), ("a", "b")]
+GIFTS = {("a", "b"): 1, ("b", "a"): 2, ("b", "c"): 1, ("c", "b"): 1, ("c", "d"): 2, ("d", "c"): 1}
+PART = {"a": 3, "b": 3, "d": 3}
+BOX = {"a": (2, 4), "b": (3, 3), "c": (3, 4), "d": (0, 10)}
+PRICES = {"a": 1, "b": 2, "c": 3, "d": 4}
+
+
+def first_one(many):
+    """A chooser."""
+    return 0
+
+
 
 # of each function right arguments by the names of the parameters; 0 stands for the example's village
 CASES = [
@@ -49,6 +63,44 @@ CASES = [
     (begunledgers.begun_break, {"village": 0, "ledger": {**FIRST, "c": 1}}),
     (begunledgers.moments_fault, {"village": 0, "ledgers": [FIRST, {"a": 2, "b": 2, "c": 1, "d": 1}]}),
     (begunledgers.moments_calendar, {"village": 0, "ledgers": [FIRST, THREES]}),
+    (gifts.gift, {"village": 0, "slates": SLATES, "one": "c", "other": "d"}),
+    (gifts.gifts, {"village": 0, "slates": SLATES}),
+    (gifts.talks, {"village": 0, "slates": SLATES}),
+    (giftbreaks.slates_of_gifts, {"village": 0, "gifts": GIFTS}),
+    (giftbreaks.gift_break, {"village": 0, "gifts": {**GIFTS, ("b", "a"): 3}}),
+    (giftbreaks.slates_of_talks, {"village": 0, "talks": [3, 2, 3]}),
+    (giftbreaks.talks_break, {"village": 0, "talks": [3, 2, 4]}),
+    (tellings.told_at, {"village": 0, "slates": SLATES, "one": "c", "other": "d"}),
+    (tellings.lots_at, {"village": 0, "one": "c", "other": "d"}),
+    (tellings.slates_telling, {"village": 0, "one": "c", "other": "d", "some": ["c", "b"]}),
+    (tellings.gift_counts, {"village": 0, "one": "c", "other": "d"}),
+    (tellings.number_counts, {"village": 0, "person": "b"}),
+    (lacking.missing_number, {"village": 0, "part": PART}),
+    (lacking.part_break, {"village": 0, "part": {**PART, "d": 5}}),
+    (lacking.suspects, {"village": 0, "ledger": {**THREES, "a": 4}}),
+    (lacking.slates_by_part, {"village": 0, "part": {"c": 3}}),
+    (lacking.sure_by_part, {"village": 0, "part": {"c": 3, "a": 3}}),
+    (inboxes.slates_in_box, {"village": 0, "box": BOX}),
+    (inboxes.count_in_box, {"village": 0, "box": BOX}),
+    (inboxes.numbers_in_box, {"village": 0, "box": BOX}),
+    (inboxes.sure_in_box, {"village": 0, "box": BOX}),
+    (nearest.fewest_wrong, {"village": 0, "ledger": {**THREES, "a": 4}}),
+    (nearest.nearest, {"village": 0, "ledger": {**THREES, "a": 2, "d": 2}}),
+    (nearest.cheapest, {"village": 0, "ledger": {**THREES, "a": 2, "d": 2}, "prices": PRICES}),
+    (calendarcounts.count_calendars, {"village": 0, "slates": SLATES}),
+    (calendarcounts.place_counts, {"village": 0, "slates": SLATES, "meeting": ("a", "b")}),
+    (calendarcounts.mean_place, {"village": 0, "slates": SLATES, "meeting": ("b", "a")}),
+    (calendarcounts.ahead_word, {"village": 0, "slates": SLATES, "one": ("a", "b"), "other": ("d", "c")}),
+    (calendarcounts.surely_ahead, {"village": 0, "slates": SLATES, "meeting": ("a", "b")}),
+    (calendarcounts.surely_behind, {"village": 0, "slates": SLATES, "meeting": ("c", "b")}),
+    (calendarcounts.ahead_chance, {"village": 0, "slates": SLATES, "one": ("a", "b"), "other": ("d", "c")}),
+    (calendarnumbers.calendar_at, {"village": 0, "slates": SLATES, "number": 1}),
+    (calendarnumbers.calendar_number, {"village": 0, "calendar": ALIKE}),
+    (calendarnumbers.next_calendar, {"village": 0, "calendar": CALENDAR}),
+    (calendarnumbers.last_calendar, {"village": 0, "slates": SLATES}),
+    (calendarnumbers.count_begun, {"village": 0, "slates": SLATES, "start": [("c", "b")]}),
+    (calendarnumbers.next_meetings, {"village": 0, "slates": SLATES, "start": [("c", "b")]}),
+    (calendarnumbers.drawn_calendar, {"village": 0, "slates": SLATES, "chooser": first_one}),
 ]
 METHODS = [
     ("people", {}), ("ties", {}), ("news", {}), ("friends", {"person": "b"}), ("way", {"one": "a", "other": "c"}),
@@ -62,8 +114,21 @@ DUE = {
     "other": (errors.NoPerson, "person"), "many": (errors.BadMany, "many"), "number": (errors.BadNumber, "number"),
     "table": (errors.BadTable, "table"), "ledger": (errors.BadLedger, "ledger"), "fame": (errors.BadFame, "fame"),
     "begun": (errors.BadBegun, "begun"), "some": (errors.BadSome, "index"), "people": (errors.BadPeople, "index"),
-    "ledgers": (errors.BadLedgers, "index"), "thing": None,
+    "ledgers": (errors.BadLedgers, "index"), "thing": None, "gifts": (errors.BadGifts, "gifts"),
+    "talks": (errors.BadTalks, "index"), "part": (errors.BadPart, "part"), "box": (errors.BadBox, "box"),
+    "prices": (errors.BadPrices, "prices"), "meeting": (errors.BadMeeting, "meeting"),
+    "start": (errors.BadStart, "index"), "chooser": (errors.BadChooser, "thing"),
 }
+# of a desk that has held the meeting of b and c right arguments of its methods, and the error of each
+DESK_METHODS = [
+    ("village", {}, None), ("held", {}, None), ("watched", {}, None), ("free_meetings", {}, None), ("count", {}, None),
+    ("deeds", {}, None), ("copy", {}, None), ("undo", {}, None), ("again", {}, None),
+    ("do", {"deed": ("meet", "a", "b")}, refusals.BadDeed), ("would", {"deed": ("leave", "d")}, refusals.BadDeed),
+    ("is_question", {"thing": ("left",)}, None), ("answer", {"question": ("most", "d")}, refusals.BadQuestion),
+    ("way_on", {"one": "a", "other": "c"}, errors.NoPerson), ("best_on", {"person": "d"}, errors.NoPerson),
+    ("barred_at", {"one": "d", "other": "a"}, errors.NoPerson), ("at", {"number": 1}, refusals.NoCount),
+    ("trial", {"work": lambda desk: desk.held()}, None),
+]
 
 
 def right(arguments):
@@ -117,6 +182,8 @@ def is_due(function, name):
     """The error that is due of a parameter of a function, None if it may be any object."""
     if function is calendars.are_alike and name != "village":
         return (errors.BadCalendar, "calendar")
+    if function in (calendarcounts.ahead_word, calendarcounts.ahead_chance) and name in ("one", "other"):
+        return (errors.BadMeeting, "meeting")
     return DUE[name]
 
 
@@ -124,7 +191,8 @@ class Calls(helper.Told):
     """2.1: what holds of all calls."""
 
     def test_all_functions_of_the_modules_are_here(self):
-        for module in (calendars, clashes, tables, peopletables, ledgers, ledgerbreaks, begunledgers):
+        for module in (calendars, clashes, tables, peopletables, ledgers, ledgerbreaks, begunledgers, gifts, giftbreaks,
+                       tellings, lacking, inboxes, nearest, calendarcounts, calendarnumbers):
             listed = [function.__name__ for function, arguments in CASES if function.__module__ == module.__name__]
             self.assertGreater(len(listed), 1)
             for name in listed:
@@ -242,7 +310,9 @@ class ErrorsDue(helper.Told):
     def wrong_for(self, name):
         return [thing for thing in helper.any_objects()
                 if not (name == "village" and isinstance(thing, Village))
-                and not (name in ("some",) and isinstance(thing, (list, tuple)))
+                and not (name == "some" and isinstance(thing, (list, tuple)))
+                and not (name == "start" and isinstance(thing, (list, tuple)) and len(thing) == 0)
+                and not (name == "chooser" and callable(thing)) and not (name == "part" and thing == {})
                 and not (name in ("people", "ledgers") and isinstance(thing, (list, tuple)) and len(thing) > 0)]
 
     def test_each_parameter(self):
@@ -261,7 +331,7 @@ class ErrorsDue(helper.Told):
             names = [name for name in arguments if is_due(function, name) is not None]
             for place, name in enumerate(names):
                 later = {behind: None for behind in names[place + 1:]}
-                for thing in (None, 7.5, "?", -1):
+                for thing in (None, "?", -1) + (() if name == "chooser" else (7.5,)):
                     self.due(function, name, {**right(arguments), **later, name: thing})
 
     def test_errors_change_nothing(self):
@@ -301,6 +371,79 @@ class ErrorsDue(helper.Told):
         self.assertTold(ledgerbreaks.slates_of_ledger(rich, ledgers.ledger(rich, slates)), slates)
 
 
+class DesksThroughout(helper.Told):
+    """2.1 and 2.2 of desks, the only objects that change."""
+
+    def desk(self):
+        desk = Desk(helper.example_village())
+        desk.do(("watch", ("left",)))
+        desk.do(("meet", "b", "c"))
+        desk.do(("meet", "c", "d"))
+        desk.undo()
+        return desk
+
+    def told(self, name, arguments, change=copy.deepcopy):
+        told = getattr(self.desk(), name)(**{one: change(thing) for one, thing in arguments.items()})
+        return repr(told.held() if isinstance(told, Desk) else told.people() if isinstance(told, Village) else told)
+
+    def test_by_place_or_by_name(self):
+        for name, arguments, kind in DESK_METHODS:
+            self.assertEqual(list(inspect.signature(getattr(self.desk(), name)).parameters), list(arguments))
+            if name not in ("village", "copy", "at"):
+                told = repr(getattr(self.desk(), name)(*arguments.values()))
+                self.assertEqual(self.told(name, arguments), told)
+
+    def test_tuples_for_lists_and_lists_for_tuples(self):
+        for name, arguments, kind in DESK_METHODS:
+            for change in (helper.as_tuples, helper.as_lists):
+                self.assertEqual(self.told(name, arguments, change), self.told(name, arguments))
+
+    def test_arguments_are_not_changed_and_later_changes_have_no_effect(self):
+        for name, arguments, kind in DESK_METHODS:
+            desk = self.desk()
+            passed = {one: helper.as_lists(thing) for one, thing in arguments.items()}
+            ahead = repr(passed)
+            getattr(desk, name)(**passed)
+            self.assertEqual(repr(passed), ahead)
+            kept = (desk.deeds(), desk.held(), desk.watched())
+            spoilt(list(passed.values()))
+            self.assertEqual((desk.deeds(), desk.held(), desk.watched()), kept)
+
+    def test_told_lists_are_new_ones(self):
+        for name, arguments, kind in DESK_METHODS:
+            if name not in ("do", "undo", "again"):
+                desk = self.desk()
+                told, again = getattr(desk, name)(**arguments), getattr(desk, name)(**arguments)
+                every = objects(told) + objects(again)
+                self.assertEqual(len({id(thing) for thing in every}), len(every), name)
+                ahead = repr((desk.deeds(), desk.held(), desk.watched()))
+                spoilt(told)
+                self.assertEqual(repr((desk.deeds(), desk.held(), desk.watched())), ahead)
+
+    def test_errors_keep_the_very_objects_and_change_nothing(self):
+        for name, arguments, kind in DESK_METHODS:
+            for one in arguments if kind is not None else ():
+                desk = self.desk()
+                for thing in helper.any_objects():
+                    attribute = {"deed": "thing", "question": "thing", "number": "number"}.get(one, "person")
+                    self.assertRaisesJust(kind, {attribute: thing}, getattr(desk, name), **{**arguments, one: thing})
+                self.assertEqual(desk, self.desk())
+                self.assertEqual((desk.deeds(), desk.again()), (self.desk().deeds(), ("meet", "c", "d")))
+
+    def test_two_desks_in_turns(self):
+        one, other = self.desk(), Desk(Village(list("dcba"), helper.EXAMPLE_TIES, [1, 2, 3, 4]))
+        for _ in range(2):
+            self.assertTold(one.answer(("most", "d")), 3)
+            self.assertTold(other.answer(("most", "d")), 10)
+            self.assertTold(one.best_on("a"), [("c", "d"), ("a", "b")])
+            self.assertTold(other.best_on("a"), [("c", "d"), ("b", "c"), ("a", "b")])
+
+    def test_undo_and_again_tell_none_at_the_ends(self):
+        desk = Desk(helper.example_village())
+        self.assertIs(desk.undo(), None)
+        self.assertIs(desk.again(), None)
+
+
 class WhatItIs(helper.Told):
     """1.1 and 1.2: the one rule, and that the numbers alone tell all."""
 
@@ -333,5 +476,7 @@ class KeptObjects(helper.Told):
             self.assertIs(village == thing, False)
             self.assertIs(thing == village, False)
             self.assertIs(village in [thing], False)
+        self.assertIs(village == Desk(village), False)
+        self.assertIs(Desk(village) == village, False)
         self.assertIs(village == helper.example_village(), True)
         self.assertTrue(villages.Village is Village)
