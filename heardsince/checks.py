@@ -75,3 +75,8 @@ def is_table_of(people, thing):
     if not is_dict_of(people, thing):
         return False
     return all([is_some_of(people, thing[person]) and person in thing[person] for person in people])
+
+
+def is_span(thing):
+    """Whether a thing is a pair of numbers, the second one not below the first one."""
+    return is_list(thing) and len(thing) == 2 and is_number(thing[0]) and is_number(thing[1]) and thing[0] <= thing[1]

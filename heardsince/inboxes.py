@@ -1,6 +1,6 @@
 """Ledgers that lie within a box: from which number to which each can have heard."""
 
-from heardsince.checks import is_dict_of, is_list, is_number
+from heardsince.checks import is_dict_of, is_span
 from heardsince.errors import BadBox
 from heardsince.ledgerbreaks import rim_order
 from heardsince.ledgers import news_heard
@@ -37,11 +37,6 @@ def check_box(village, box):
     check_village(village)
     if not is_dict_of(village.people(), box) or not all([is_span(box[person]) for person in box]):
         raise BadBox(box)
-
-
-def is_span(thing):
-    """Whether a thing is a pair of numbers, the second one not below the first one."""
-    return is_list(thing) and len(thing) == 2 and is_number(thing[0]) and is_number(thing[1]) and thing[0] <= thing[1]
 
 
 def sure_by_all(village, every):

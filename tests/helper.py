@@ -258,3 +258,38 @@ EXAMPLE_SLATES = {"a": ["b"], "b": ["c", "a"], "c": ["b", "d"], "d": ["c"]}
 
 def example_village():
     return Village(EXAMPLE_PEOPLE, EXAMPLE_TIES, [1, 1, 1, 1])
+
+
+def turned_keys(thing):
+    """A dict from meetings with all of them the other way round, and in the other order."""
+    return {(other, one): thing[one, other] for one, other in reversed(list(thing))}
+
+
+def great_villages(seed):
+    """A row, a star and other villages of sixty."""
+    return [row_village(60), star_village(60)] + some_villages(60, 3, seed, 10 ** 15)
+
+
+def steps_from(start, beside):
+    """The dict from the reprs of all that can be reached to in how few steps; beside tells what is one step off."""
+    found = {repr(start): 0}
+    near = [start]
+    while near:
+        further = []
+        for here in near:
+            for thing in beside(here):
+                if repr(thing) not in found:
+                    found[repr(thing)] = found[repr(here)] + 1
+                    further.append(thing)
+        near = further
+    return found
+
+
+def exchanges_of(row):
+    """All rows in which two neighbours have changed places."""
+    return [row[:place] + [row[place + 1], row[place]] + row[place + 2:] for place in range(len(row) - 1)]
+
+
+def slate_exchanges(slates):
+    """All slates in which two neighbours of one slate have changed places."""
+    return [{**slates, person: slate} for person in slates for slate in exchanges_of(slates[person])]

@@ -51,6 +51,37 @@ FUNCTIONS = {
         "next_calendar": "village calendar", "last_calendar": "village slates",
         "count_begun": "village slates start", "next_meetings": "village slates start",
         "drawn_calendar": "village slates chooser"},
+    "exchanges": {
+        "exchanged": "village calendar place", "shared_at": "village calendar place",
+        "unlike_meetings": "village one other", "exchange_row": "village one other", "distance": "village one other"},
+    "slaterows": {
+        "unlike_friends": "village one other", "slate_row": "village one other", "slate_distance": "village one other",
+        "lies_between": "village one third other"},
+    "changes": {
+        "changed_by": "village slates person place", "heard_in_all": "village slates",
+        "gain": "village slates person place", "best_exchange": "village slates", "climbed": "village slates"},
+    "movedmeetings": {"fewest_moved": "village one other prices", "kept_meetings": "village one other prices"},
+    "days": {
+        "is_plan": "village thing", "slates_of_plan": "village plan", "is_chain": "village slates thing",
+        "first_days": "village slates", "fewest_days": "village slates", "longest_chain": "village slates",
+        "last_days": "village slates days", "tight": "village slates"},
+    "spreads": {
+        "plan_within": "village days most", "too_many": "village days most", "least_days": "village most"},
+    "away": {
+        "left_days": "village away days", "plan_away": "village away days", "crowd": "village away days person",
+        "is_crowd": "village away days person thing", "least_days_away": "village away",
+        "first_away": "village slates away", "slow_chain": "village slates away"},
+    "spans": {
+        "goes_with": "village dates slates", "dates_for": "village spans slates", "latest_for": "village spans slates",
+        "tight_chain": "village spans slates"},
+    "hearing": {
+        "hearing": "village spans one other", "barring": "village spans one other",
+        "shown": "village spans one other heard", "sure_ones": "village spans person",
+        "open_ones": "village spans person", "most_heard": "village spans person",
+        "least_heard": "village spans person"},
+    "outside": {
+        "least_off": "village spans person", "off_dates": "village spans person", "off_pairs": "village spans person",
+        "worth_of": "village spans person thing"},
 }
 VILLAGE = {
     "__init__": "self people ties news", "people": "self", "ties": "self", "news": "self", "friends": "self person",

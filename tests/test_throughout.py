@@ -3,12 +3,13 @@
 import copy
 import inspect
 
-from heardsince import (begunledgers, calendarcounts, calendarnumbers, calendars, clashes, errors, giftbreaks, gifts,
-                        inboxes, lacking, ledgerbreaks, ledgers, nearest, peopletables, refusals, tables, tellings,
-                        villages)
+from heardsince import (away, begunledgers, calendarcounts, calendarnumbers, calendars, changes, clashes, days, errors,
+                        exchanges, giftbreaks, gifts, hearing, inboxes, lacking, ledgerbreaks, ledgers, movedmeetings,
+                        nearest, outside, peopletables, refusals, slaterows, spans, spreads, tables, tellings, villages)
 from heardsince.desks import Desk
 from heardsince.villages import Village
 from tests import helper
+from tests.test_interface import FUNCTIONS
 from tests.test_ledgers import break_by_words
 
 SLATES = helper.EXAMPLE_SLATES
@@ -22,12 +23,15 @@ GIFTS = {("a", "b"): 1, ("b", "a"): 2, ("b", "c"): 1, ("c", "b"): 1, ("c", "d"):
 PART = {"a": 3, "b": 3, "d": 3}
 BOX = {"a": (2, 4), "b": (3, 3), "c": (3, 4), "d": (0, 10)}
 PRICES = {"a": 1, "b": 2, "c": 3, "d": 4}
+ABOUT = {"a": ["b"], "b": ["a", "c"], "c": ["d", "b"], "d": ["c"]}
+PLAN = {("a", "b"): 2, ("b", "c"): 1, ("c", "d"): 2}
+AWAY = {"b": [1], "c": [2, 7]}
+SPANS = {("a", "b"): (1, 2), ("b", "c"): (2, 4), ("c", "d"): (3, 3)}
 
 
 def first_one(many):
     """A chooser."""
     return 0
-
 
 
 # of each function right arguments by the names of the parameters; 0 stands for the example's village
@@ -101,6 +105,55 @@ CASES = [
     (calendarnumbers.count_begun, {"village": 0, "slates": SLATES, "start": [("c", "b")]}),
     (calendarnumbers.next_meetings, {"village": 0, "slates": SLATES, "start": [("c", "b")]}),
     (calendarnumbers.drawn_calendar, {"village": 0, "slates": SLATES, "chooser": first_one}),
+    (exchanges.exchanged, {"village": 0, "calendar": CALENDAR, "place": 1}),
+    (exchanges.shared_at, {"village": 0, "calendar": CALENDAR, "place": 0}),
+    (exchanges.unlike_meetings, {"village": 0, "one": CALENDAR, "other": CALENDAR[::-1]}),
+    (exchanges.exchange_row, {"village": 0, "one": CALENDAR, "other": CALENDAR[::-1]}),
+    (exchanges.distance, {"village": 0, "one": CALENDAR, "other": ALIKE}),
+    (slaterows.unlike_friends, {"village": 0, "one": SLATES, "other": ABOUT}),
+    (slaterows.slate_row, {"village": 0, "one": SLATES, "other": ABOUT}),
+    (slaterows.slate_distance, {"village": 0, "one": SLATES, "other": ABOUT}),
+    (slaterows.lies_between, {"village": 0, "one": SLATES, "third": {**SLATES, "b": ["a", "c"]}, "other": ABOUT}),
+    (changes.changed_by, {"village": 0, "slates": SLATES, "person": "b", "place": 0}),
+    (changes.heard_in_all, {"village": 0, "slates": SLATES}),
+    (changes.gain, {"village": 0, "slates": SLATES, "person": "c", "place": 0}),
+    (changes.best_exchange, {"village": 0, "slates": SLATES}),
+    (changes.climbed, {"village": 0, "slates": SLATES}),
+    (movedmeetings.fewest_moved, {"village": 0, "one": SLATES, "other": ABOUT, "prices": [1, 5, 1]}),
+    (movedmeetings.kept_meetings, {"village": 0, "one": SLATES, "other": ABOUT, "prices": [1, 1, 1]}),
+    (days.is_plan, {"village": 0, "thing": PLAN}),
+    (days.slates_of_plan, {"village": 0, "plan": PLAN}),
+    (days.is_chain, {"village": 0, "slates": SLATES, "thing": [("b", "c"), ("c", "d")]}),
+    (days.first_days, {"village": 0, "slates": SLATES}),
+    (days.fewest_days, {"village": 0, "slates": SLATES}),
+    (days.longest_chain, {"village": 0, "slates": SLATES}),
+    (days.last_days, {"village": 0, "slates": SLATES, "days": 3}),
+    (days.tight, {"village": 0, "slates": SLATES}),
+    (spreads.plan_within, {"village": 0, "days": 4, "most": 1}),
+    (spreads.too_many, {"village": 0, "days": 2, "most": 1}),
+    (spreads.least_days, {"village": 0, "most": 2}),
+    (away.left_days, {"village": 0, "away": AWAY, "days": 4}),
+    (away.plan_away, {"village": 0, "away": AWAY, "days": 4}),
+    (away.crowd, {"village": 0, "away": AWAY, "days": 2, "person": "a"}),
+    (away.is_crowd, {"village": 0, "away": AWAY, "days": 2, "person": "a", "thing": ["b"]}),
+    (away.least_days_away, {"village": 0, "away": AWAY}),
+    (away.first_away, {"village": 0, "slates": SLATES, "away": AWAY}),
+    (away.slow_chain, {"village": 0, "slates": SLATES, "away": AWAY}),
+    (spans.goes_with, {"village": 0, "dates": PLAN, "slates": SLATES}),
+    (spans.dates_for, {"village": 0, "spans": SPANS, "slates": SLATES}),
+    (spans.latest_for, {"village": 0, "spans": SPANS, "slates": ABOUT}),
+    (spans.tight_chain, {"village": 0, "spans": {**SPANS, ("b", "c"): (4, 4)}, "slates": SLATES}),
+    (hearing.hearing, {"village": 0, "spans": SPANS, "one": "d", "other": "a"}),
+    (hearing.barring, {"village": 0, "spans": SPANS, "one": "a", "other": "d"}),
+    (hearing.shown, {"village": 0, "spans": SPANS, "one": "d", "other": "a", "heard": False}),
+    (hearing.sure_ones, {"village": 0, "spans": SPANS, "person": "a"}),
+    (hearing.open_ones, {"village": 0, "spans": SPANS, "person": "a"}),
+    (hearing.most_heard, {"village": 0, "spans": SPANS, "person": "a"}),
+    (hearing.least_heard, {"village": 0, "spans": SPANS, "person": "a"}),
+    (outside.least_off, {"village": 0, "spans": SPANS, "person": "a"}),
+    (outside.off_dates, {"village": 0, "spans": SPANS, "person": "a"}),
+    (outside.off_pairs, {"village": 0, "spans": SPANS, "person": "a"}),
+    (outside.worth_of, {"village": 0, "spans": SPANS, "person": "a", "thing": [(("c", "d"), ("a", "b"))]}),
 ]
 METHODS = [
     ("people", {}), ("ties", {}), ("news", {}), ("friends", {"person": "b"}), ("way", {"one": "a", "other": "c"}),
@@ -117,8 +170,30 @@ DUE = {
     "ledgers": (errors.BadLedgers, "index"), "thing": None, "gifts": (errors.BadGifts, "gifts"),
     "talks": (errors.BadTalks, "index"), "part": (errors.BadPart, "part"), "box": (errors.BadBox, "box"),
     "prices": (errors.BadPrices, "prices"), "meeting": (errors.BadMeeting, "meeting"),
-    "start": (errors.BadStart, "index"), "chooser": (errors.BadChooser, "thing"),
+    "start": (errors.BadStart, "index"), "chooser": (errors.BadChooser, "thing"), "place": (errors.BadPlace, "place"),
+    "third": (errors.BadSlates, "slates"), "plan": (errors.BadPlan, "plan"), "days": (errors.BadDays, "days"),
+    "most": (errors.BadMost, "most"), "away": (errors.BadAway, "away"), "spans": (errors.BadSpans, "spans"),
+    "dates": (errors.BadDates, "dates"), "heard": (errors.BadTruth, "heard"),
 }
+# what one and other are where they are no people
+OF_CALENDARS = (calendars.are_alike, exchanges.unlike_meetings, exchanges.exchange_row, exchanges.distance)
+OF_SLATES = (slaterows.unlike_friends, slaterows.slate_row, slaterows.slate_distance, slaterows.lies_between,
+             movedmeetings.fewest_moved, movedmeetings.kept_meetings)
+OF_MEETINGS = (calendarcounts.ahead_word, calendarcounts.ahead_chance)
+# of some parameters the things among any objects that are right, or of which a later part is wrong
+RIGHT_TOO = {
+    "village": lambda thing: isinstance(thing, Village),
+    "some": lambda thing: isinstance(thing, (list, tuple)),
+    "start": lambda thing: thing in ([], ()),
+    "chooser": callable,
+    "part": lambda thing: thing == {},
+    "people": lambda thing: isinstance(thing, (list, tuple)) and len(thing) > 0,
+    "ledgers": lambda thing: isinstance(thing, (list, tuple)) and len(thing) > 0,
+    "most": lambda thing: thing is None,
+    "away": lambda thing: thing == {},
+    "heard": lambda thing: thing is True or thing is False,
+}
+QUESTIONS = ("are_alike", "has_heard", "lies_between", "goes_with")
 # of a desk that has held the meeting of b and c right arguments of its methods, and the error of each
 DESK_METHODS = [
     ("village", {}, None), ("held", {}, None), ("watched", {}, None), ("free_meetings", {}, None), ("count", {}, None),
@@ -180,23 +255,34 @@ def objects(thing):
 
 def is_due(function, name):
     """The error that is due of a parameter of a function, None if it may be any object."""
-    if function is calendars.are_alike and name != "village":
-        return (errors.BadCalendar, "calendar")
-    if function in (calendarcounts.ahead_word, calendarcounts.ahead_chance) and name in ("one", "other"):
-        return (errors.BadMeeting, "meeting")
+    if name in ("one", "other"):
+        for functions, due in ((OF_CALENDARS, "calendar"), (OF_SLATES, "slates"), (OF_MEETINGS, "meeting")):
+            if function in functions:
+                return DUE[due]
+    if name == "prices" and function.__module__ == movedmeetings.__name__:
+        return (errors.BadCosts, "index")
     return DUE[name]
+
+
+def meetings_turned(thing):
+    """A thing with all meetings of the example within it the other way round, keys among them."""
+    if isinstance(thing, tuple) and len(thing) == 2 and thing in helper.EXAMPLE_TIES:
+        return thing[::-1]
+    if isinstance(thing, dict):
+        return {meetings_turned(key): meetings_turned(part) for key, part in thing.items()}
+    if isinstance(thing, (list, tuple)):
+        return type(thing)(meetings_turned(part) for part in thing)
+    return thing
 
 
 class Calls(helper.Told):
     """2.1: what holds of all calls."""
 
-    def test_all_functions_of_the_modules_are_here(self):
-        for module in (calendars, clashes, tables, peopletables, ledgers, ledgerbreaks, begunledgers, gifts, giftbreaks,
-                       tellings, lacking, inboxes, nearest, calendarcounts, calendarnumbers):
-            listed = [function.__name__ for function, arguments in CASES if function.__module__ == module.__name__]
-            self.assertGreater(len(listed), 1)
-            for name in listed:
-                self.assertIs(inspect.getmodule(getattr(module, name)), module)
+    def test_all_functions_of_the_interface_are_here(self):
+        listed = [(function.__module__, function.__name__) for function, arguments in CASES]
+        self.assertEqual(len(set(listed)), len(listed))
+        self.assertEqual(set(listed), {("heardsince." + name, function)
+                                       for name, functions in FUNCTIONS.items() for function in functions})
 
     def test_by_place_or_by_name(self):
         for function, arguments in CASES:
@@ -225,6 +311,14 @@ class Calls(helper.Told):
                 if name == "ledgers":
                     about[name] = [dict(reversed(one.items())) for one in thing]
             self.assertEqual(repr(function(**about)), told)
+
+    def test_meetings_either_way_round(self):
+        for function, arguments in CASES:
+            # gifts are of pairs of friends, the one who gives ahead
+            if "gifts" not in arguments:
+                told = repr(function(**right(arguments)))
+                about = {name: meetings_turned(thing) for name, thing in right(arguments).items()}
+                self.assertEqual(repr(function(**about)), told, function)
 
     def test_arguments_are_not_changed(self):
         for function, arguments in CASES:
@@ -288,7 +382,7 @@ class Calls(helper.Told):
 
     def test_questions_are_answered_by_true_or_false(self):
         for function, arguments in CASES:
-            if function.__name__.startswith("is_") or function.__name__ in ("are_alike", "has_heard"):
+            if function.__name__.startswith("is_") or function.__name__ in QUESTIONS:
                 self.assertIs(function(**right(arguments)), True)
 
     def test_villages_do_not_change(self):
@@ -308,12 +402,7 @@ class ErrorsDue(helper.Told):
     """2.2: which error is raised, what it keeps, and that nothing is changed."""
 
     def wrong_for(self, name):
-        return [thing for thing in helper.any_objects()
-                if not (name == "village" and isinstance(thing, Village))
-                and not (name == "some" and isinstance(thing, (list, tuple)))
-                and not (name == "start" and isinstance(thing, (list, tuple)) and len(thing) == 0)
-                and not (name == "chooser" and callable(thing)) and not (name == "part" and thing == {})
-                and not (name in ("people", "ledgers") and isinstance(thing, (list, tuple)) and len(thing) > 0)]
+        return [thing for thing in helper.any_objects() if name not in RIGHT_TOO or not RIGHT_TOO[name](thing)]
 
     def test_each_parameter(self):
         for function, arguments in CASES:
@@ -331,7 +420,7 @@ class ErrorsDue(helper.Told):
             names = [name for name in arguments if is_due(function, name) is not None]
             for place, name in enumerate(names):
                 later = {behind: None for behind in names[place + 1:]}
-                for thing in (None, "?", -1) + (() if name == "chooser" else (7.5,)):
+                for thing in ("?", -1) + (() if name == "chooser" else (7.5,)) + (() if name == "most" else (None,)):
                     self.due(function, name, {**right(arguments), **later, name: thing})
 
     def test_errors_change_nothing(self):
