@@ -3,7 +3,7 @@
 from heardsince.errors import BadTruth
 from heardsince.meetingdays import both_ways, tie_names
 from heardsince.spans import checked_spans
-from heardsince.villages import check_person, inward_from
+from heardsince.villages import check_person, check_two, inward_from
 
 
 def hearing(village, spans, one, other):
@@ -61,12 +61,6 @@ def least_heard(village, spans, person):
     within = checked_spans(village, spans)
     check_person(village, person)
     return least_by(village, within, person)
-
-
-def check_two(village, one, other):
-    """Raises NoPerson of one, of other."""
-    check_person(village, one)
-    check_person(village, other)
 
 
 def ones_of(village, spans, person, word):

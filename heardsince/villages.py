@@ -71,10 +71,15 @@ def check_person(village, person):
         raise NoPerson(person)
 
 
-def check_friends(village, one, other):
-    """Raises NoPerson of one, of other, then NotFriends."""
+def check_two(village, one, other):
+    """Raises NoPerson of one, of other."""
     check_person(village, one)
     check_person(village, other)
+
+
+def check_friends(village, one, other):
+    """Raises NoPerson of one, of other, then NotFriends."""
+    check_two(village, one, other)
     if other not in village.friends(one):
         raise NotFriends(one, other)
 

@@ -1,5 +1,6 @@
 """What the tests share: small villages, all their slates and calendars, and answers told by going through all."""
 
+import functools
 import itertools
 import random
 import unittest
@@ -130,13 +131,25 @@ def friends(village):
     return {one: [other for other in village.people() if (one, other) in ties] for one in village.people()}
 
 
+@functools.lru_cache(maxsize=400)
+def all_ways(people, ties):
+    """The dict from all pairs of people to the way from one to the other, by growing ways."""
+    near = {person: [] for person in people}
+    for one, other in ties:
+        near[one].append(other)
+        near[other].append(one)
+    found = {}
+    for one in people:
+        ways = [(one,)]
+        while ways:
+            found.update({(one, row[-1]): row for row in ways})
+            ways = [row + (friend,) for row in ways for friend in near[row[-1]] if friend not in row]
+    return found
+
+
 def way(village, one, other):
-    """The way from one to other, by growing ways from one."""
-    near = friends(village)
-    ways = {one: [one]}
-    while other not in ways:
-        ways.update({friend: row + [friend] for end, row in ways.items() for friend in near[end] if friend not in ways})
-    return ways[other]
+    """The way from one to other."""
+    return list(all_ways(tuple(village.people()), tuple(village.ties()))[one, other])
 
 
 def all_slates(village):

@@ -82,6 +82,35 @@ FUNCTIONS = {
     "outside": {
         "least_off": "village spans person", "off_dates": "village spans person", "off_pairs": "village spans person",
         "worth_of": "village spans person thing"},
+    "rounds": {
+        "falls": "village slates one other", "heard_in": "village slates one other",
+        "table_behind": "village slates rounds", "ledger_behind": "village slates rounds",
+        "rounds_of": "village slates person", "rounds_for": "village slates", "last_to_hear": "village slates"},
+    "fewrounds": {
+        "slates_within": "village rounds", "way_against": "village rounds", "is_way_against": "village rounds thing",
+        "least_rounds": "village", "nearest_within": "village slates rounds"},
+    "hearts": {
+        "heart": "village hearers tellers", "slates_for": "village hearers tellers rounds",
+        "heart_way": "village hearers tellers rounds", "is_heart_way": "village hearers tellers rounds thing",
+        "least_rounds_for": "village hearers tellers"},
+    "timetables": {
+        "is_timetable": "village week thing", "slates_in": "village week timetable",
+        "delay": "village week timetable one other", "known_day": "village week timetable one other day",
+        "age": "village week timetable one other day", "first_known": "village week timetable one other",
+        "settled": "village week timetable", "oldest": "village week timetable"},
+    "missed": {
+        "known_by_missed": "village week timetable missed one other day",
+        "missed_for": "village week timetable one other day many"},
+    "gaps": {
+        "gaps_of": "village week timetable", "timetable_of": "village week gaps", "gap_clash": "village week gaps"},
+    "shortest": {"timetable_within": "village week number", "least_delay": "village week"},
+    "sayings": {
+        "fits": "village slates sayings", "orders_of": "village sayings", "sayers": "village sayings person x y",
+        "fault_of": "village sayings", "slates_fit": "village sayings", "way_of_orders": "village sayings person x y"},
+    "fitting": {
+        "count_fit": "village sayings", "chance_fit": "village sayings one other", "slates_of_all": "village sayings",
+        "count_of_all": "village sayings", "clash_of": "village sayings"},
+    "listeners": {"known_sets": "village person sayings", "not_so": "village person sayings"},
 }
 VILLAGE = {
     "__init__": "self people ties news", "people": "self", "ties": "self", "news": "self", "friends": "self person",

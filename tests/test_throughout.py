@@ -4,8 +4,9 @@ import copy
 import inspect
 
 from heardsince import (away, begunledgers, calendarcounts, calendarnumbers, calendars, changes, clashes, days, errors,
-                        exchanges, giftbreaks, gifts, hearing, inboxes, lacking, ledgerbreaks, ledgers, movedmeetings,
-                        nearest, outside, peopletables, refusals, slaterows, spans, spreads, tables, tellings, villages)
+                        exchanges, fewrounds, fitting, gaps, giftbreaks, gifts, hearing, hearts, inboxes, lacking,
+                        ledgerbreaks, ledgers, listeners, missed, movedmeetings, nearest, outside, peopletables, refusals,
+                        rounds, sayings, shortest, slaterows, spans, spreads, tables, tellings, timetables, villages)
 from heardsince.desks import Desk
 from heardsince.villages import Village
 from tests import helper
@@ -27,6 +28,12 @@ ABOUT = {"a": ["b"], "b": ["a", "c"], "c": ["d", "b"], "d": ["c"]}
 PLAN = {("a", "b"): 2, ("b", "c"): 1, ("c", "d"): 2}
 AWAY = {"b": [1], "c": [2, 7]}
 SPANS = {("a", "b"): (1, 2), ("b", "c"): (2, 4), ("c", "d"): (3, 3)}
+WEEK = {"village": 0, "week": 7, "timetable": {("a", "b"): 5, ("b", "c"): 2, ("c", "d"): 3}}
+GAPS = {("a", "b", "c"): 4, ("c", "b", "a"): 3, ("b", "c", "d"): 1, ("d", "c", "b"): 6}
+SAYINGS = [("d", "a", True), ("a", "c", False)]
+RING = [("a", "c", True), ("a", "c", False)]
+SOME = {"village": 0, "hearers": ["a", "c"], "tellers": ["b", "d"]}
+ALL = {"village": 0, "hearers": ["d", "a"], "tellers": ["a", "d"]}
 
 
 def first_one(many):
@@ -154,6 +161,52 @@ CASES = [
     (outside.off_dates, {"village": 0, "spans": SPANS, "person": "a"}),
     (outside.off_pairs, {"village": 0, "spans": SPANS, "person": "a"}),
     (outside.worth_of, {"village": 0, "spans": SPANS, "person": "a", "thing": [(("c", "d"), ("a", "b"))]}),
+    (rounds.falls, {"village": 0, "slates": SLATES, "one": "d", "other": "a"}),
+    (rounds.heard_in, {"village": 0, "slates": SLATES, "one": "d", "other": "a"}),
+    (rounds.table_behind, {"village": 0, "slates": SLATES, "rounds": 1}),
+    (rounds.ledger_behind, {"village": 0, "slates": SLATES, "rounds": 2}),
+    (rounds.rounds_of, {"village": 0, "slates": SLATES, "person": "b"}),
+    (rounds.rounds_for, {"village": 0, "slates": SLATES}),
+    (rounds.last_to_hear, {"village": 0, "slates": SLATES}),
+    (fewrounds.slates_within, {"village": 0, "rounds": 2}),
+    (fewrounds.way_against, {"village": 0, "rounds": 1}),
+    (fewrounds.is_way_against, {"village": 0, "rounds": 1, "thing": ["d", "c", "b"]}),
+    (fewrounds.least_rounds, {"village": 0}),
+    (fewrounds.nearest_within, {"village": 0, "slates": ABOUT, "rounds": 2}),
+    (hearts.heart, SOME),
+    (hearts.slates_for, {**SOME, "rounds": 1}),
+    (hearts.heart_way, {**ALL, "rounds": 1}),
+    (hearts.is_heart_way, {**ALL, "rounds": 1, "thing": ["a", "b", "c"]}),
+    (hearts.least_rounds_for, SOME),
+    (timetables.is_timetable, {"village": 0, "week": 7, "thing": WEEK["timetable"]}),
+    (timetables.slates_in, WEEK),
+    (timetables.delay, {**WEEK, "one": "d", "other": "a"}),
+    (timetables.known_day, {**WEEK, "one": "d", "other": "a", "day": 17}),
+    (timetables.age, {**WEEK, "one": "d", "other": "a", "day": 17}),
+    (timetables.first_known, {**WEEK, "one": "a", "other": "d"}),
+    (timetables.settled, WEEK),
+    (timetables.oldest, WEEK),
+    (missed.known_by_missed, {**WEEK, "missed": [(("a", "b"), 1), (("b", "c"), 7)], "one": "d", "other": "a",
+                              "day": 24}),
+    (missed.missed_for, {**WEEK, "one": "d", "other": "a", "day": 30, "many": 2}),
+    (gaps.gaps_of, WEEK),
+    (gaps.timetable_of, {"village": 0, "week": 7, "gaps": GAPS}),
+    (gaps.gap_clash, {"village": 0, "week": 7, "gaps": {**GAPS, ("b", "c", "d"): 2}}),
+    (shortest.timetable_within, {"village": 0, "week": 3, "number": 4}),
+    (shortest.least_delay, {"village": 0, "week": 3}),
+    (sayings.fits, {"village": 0, "slates": {**SLATES, "b": ["a", "c"]}, "sayings": SAYINGS}),
+    (sayings.orders_of, {"village": 0, "sayings": SAYINGS}),
+    (sayings.sayers, {"village": 0, "sayings": SAYINGS, "person": "b", "x": "a", "y": "c"}),
+    (sayings.fault_of, {"village": 0, "sayings": RING}),
+    (sayings.slates_fit, {"village": 0, "sayings": SAYINGS}),
+    (sayings.way_of_orders, {"village": 0, "sayings": SAYINGS, "person": "b", "x": "a", "y": "c"}),
+    (fitting.count_fit, {"village": 0, "sayings": SAYINGS}),
+    (fitting.chance_fit, {"village": 0, "sayings": SAYINGS[1:], "one": "d", "other": "a"}),
+    (fitting.slates_of_all, {"village": 0, "sayings": SAYINGS}),
+    (fitting.count_of_all, {"village": 0, "sayings": [("a", "d", False)]}),
+    (fitting.clash_of, {"village": 0, "sayings": RING}),
+    (listeners.known_sets, {"village": 0, "person": "a", "sayings": [("a", "d", False)]}),
+    (listeners.not_so, {"village": 0, "person": "a", "sayings": [("a", "d", True), ("a", "c", False)]}),
 ]
 METHODS = [
     ("people", {}), ("ties", {}), ("news", {}), ("friends", {"person": "b"}), ("way", {"one": "a", "other": "c"}),
@@ -174,6 +227,10 @@ DUE = {
     "third": (errors.BadSlates, "slates"), "plan": (errors.BadPlan, "plan"), "days": (errors.BadDays, "days"),
     "most": (errors.BadMost, "most"), "away": (errors.BadAway, "away"), "spans": (errors.BadSpans, "spans"),
     "dates": (errors.BadDates, "dates"), "heard": (errors.BadTruth, "heard"),
+    "rounds": (errors.BadRounds, "rounds"), "hearers": (errors.BadLot, "index"), "tellers": (errors.BadLot, "index"),
+    "week": (refusals.BadWeek, "week"), "timetable": (refusals.BadTimetable, "timetable"),
+    "day": (refusals.BadDay, "day"), "missed": (refusals.BadMissed, "index"), "gaps": (refusals.BadGaps, "gaps"),
+    "sayings": (refusals.BadSayings, "index"), "x": (errors.NoPerson, "person"), "y": (errors.NoPerson, "person"),
 }
 # what one and other are where they are no people
 OF_CALENDARS = (calendars.are_alike, exchanges.unlike_meetings, exchanges.exchange_row, exchanges.distance)
@@ -192,8 +249,12 @@ RIGHT_TOO = {
     "most": lambda thing: thing is None,
     "away": lambda thing: thing == {},
     "heard": lambda thing: thing is True or thing is False,
+    "hearers": lambda thing: isinstance(thing, list) and thing[:1] == ["a"],
+    "tellers": lambda thing: isinstance(thing, list) and thing[:1] == ["a"],
+    "missed": lambda thing: thing in ([], ()),
+    "sayings": lambda thing: thing in ([], ()),
 }
-QUESTIONS = ("are_alike", "has_heard", "lies_between", "goes_with")
+QUESTIONS = ("are_alike", "has_heard", "lies_between", "goes_with", "fits")
 # of a desk that has held the meeting of b and c right arguments of its methods, and the error of each
 DESK_METHODS = [
     ("village", {}, None), ("held", {}, None), ("watched", {}, None), ("free_meetings", {}, None), ("count", {}, None),
