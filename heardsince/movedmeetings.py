@@ -41,6 +41,7 @@ def staying_rows(village, inward, one, other, prices):
     stays tells whether the person's meeting with the friend further in stays.
     """
     costs = both_ways(dict(zip(village.ties(), prices)))
+    # what is saved by a person's row, beside the most that is saved behind if nothing stays with the person
     worth = {}
     rows = {}
     for person in reversed(list(inward)):
@@ -48,16 +49,13 @@ def staying_rows(village, inward, one, other, prices):
         # what it is worth that the meeting with a friend stays, beside what it spoils behind
         more = {friend: costs[(person, friend)] + worth[(friend, True)] - worth[(friend, False)]
                 for friend in one[person] if friend != nearer}
-        least = sum([worth[(friend, False)] for friend in more])
         useful = [friend for friend in more if more[friend] > 0]
         places = {friend: place for place, friend in enumerate(other[person])}
-        total, rows[(person, False)] = best_row(useful, places, more)
-        worth[(person, False)] = least + total
+        worth[(person, False)], rows[(person, False)] = best_row(useful, places, more)
         if nearer is not None:
             ahead = one[person][:one[person].index(nearer)]
             beside = [friend for friend in useful if (friend in ahead) == (places[friend] < places[nearer])]
-            total, rows[(person, True)] = best_row(beside, places, more)
-            worth[(person, True)] = least + total
+            worth[(person, True)], rows[(person, True)] = best_row(beside, places, more)
     return rows
 
 

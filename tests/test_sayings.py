@@ -59,9 +59,11 @@ class Fits(helper.Told):
         right = ("a", "b", True)
         wrong = [(thing, 0) for thing in helper.any_objects() if thing not in ([], ())]
         wrong += [([right, thing], 1) for thing in helper.any_objects()]
-        wrong += [([("a", "b", 1)], 0), ([("a", "b", 0)], 0), ([right, ("a", "e", True)], 1), ([("a", "b")], 0), (right, 0),
-                  ([right, ("a", "b", True, True)], 1), ([("a", "b", None)], 0), ([("a", ["b"], True)], 0), (["abc"], 0),
-                  ([(True, "a", "b")], 0), ({right: 1}, 0), ([right, right, ("a", "b", "True")], 2)]
+        bad_ones = [("a", "b", 1), ("a", "b", 0), ("a", "e", True), ("a", "b"), ("a", "b", True, True), ("a", "b", None),
+                    ("a", ["b"], True), "abc", (True, "a", "b"), ("e", "a", True), (["a"], "b", True), (None, "a", False),
+                    (True, "a", True), (1, "a", True), ("a", "b", "True"), ("a", "b", [True])]
+        wrong += [([right] * place + [thing], place) for thing in bad_ones for place in (0, 2)]
+        wrong += [(right, 0), ({right: 1}, 0)]
         calls = ((orders_of, ()), (sayers, (None, None, None)), (fault_of, ()), (slates_fit, ()),
                  (way_of_orders, (None, None, None)))
         for thing, index in wrong:
