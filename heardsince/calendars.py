@@ -62,8 +62,7 @@ def heard_by(village, slates, person):
 def heard_ahead(village, calendar, many):
     """The dict from people to the lists of those of whom they have heard behind the first so many meetings."""
     check_calendar(village, calendar)
-    if not is_number(many) or many > len(calendar):
-        raise BadMany(many)
+    check_many(many, len(calendar))
     people = village.people()
     heard = {person: [person] for person in people}
     for one, other in calendar[:many]:
@@ -84,6 +83,12 @@ def check_slates(village, slates):
     """Raises BadVillage, BadSlates."""
     if not is_slates(village, slates):
         raise BadSlates(slates)
+
+
+def check_many(many, most):
+    """Raises BadMany for no number of at most as many as there are."""
+    if not is_number(many) or many > most:
+        raise BadMany(many)
 
 
 def calendar_places(village, thing):

@@ -143,6 +143,13 @@ class Desk:
             self._state, self._done, self._undone = state, done, undone
 
 
+def desk_in(state):
+    """A desk in a state, no deed done."""
+    desk = Desk(state[0])
+    desk._state = state
+    return desk
+
+
 def begins_with(words, thing):
     """Whether a thing is a list that begins with one of some words."""
     return is_list(thing) and len(thing) > 0 and is_one_of(words, thing[0])

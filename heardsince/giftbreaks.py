@@ -3,8 +3,8 @@
 from heardsince.checks import is_numbers_of
 from heardsince.errors import BadGifts, BadTalks
 from heardsince.gifts import friend_pairs
-from heardsince.ledgerbreaks import from_the_rims, gone_through
-from heardsince.villages import check_village, first_bad_amount, own_news
+from heardsince.ledgerbreaks import from_the_rims, gone_through, rim_order
+from heardsince.villages import check_village, first_bad_amount, inward_from, own_news
 
 
 def slates_of_gifts(village, gifts):
@@ -76,4 +76,8 @@ def slates_and_talks_break(village, talks):
             return talk, None
         return talk, standing
 
-    return from_the_rims(village, village.people()[0], stand)
+    inward = inward_from(village, village.people()[0])
+    slates, gifts, broken = from_the_rims(rim_order(village, inward), inward, stand)
+    if slates is None:
+        return None, broken
+    return {person: slates[person] for person in village.people()}, None

@@ -55,12 +55,22 @@ def least_rounds_for(village, hearers, tellers):
 def check_lots(village, hearers, tellers):
     """Raises BadVillage, BadLot of hearers, of tellers."""
     check_village(village)
-    for lot in (hearers, tellers):
-        index = first_wrong(village.people(), lot)
-        if index is None and len(lot) == 0:
-            index = 0
-        if index is not None:
-            raise BadLot(index)
+    check_full_lot(village, hearers)
+    check_full_lot(village, tellers)
+
+
+def check_full_lot(village, lot):
+    """Raises BadLot for what is no list of one or more unlike people."""
+    check_one_or_more(village.people(), lot)
+
+
+def check_one_or_more(people, lot):
+    """Raises BadLot for what is no list of one or more unlike ones of some people."""
+    index = first_wrong(people, lot)
+    if index is None and len(lot) == 0:
+        index = 0
+    if index is not None:
+        raise BadLot(index)
 
 
 def is_inner(village, hearers, tellers, tie):

@@ -64,40 +64,49 @@ def slates_and_break(village, middle, numbers, news, begun):
 
     The number of middle, who stands in the place of the village's first person, may lack.
     """
-    def stand(person, further_in, pairs):
-        front = None
-        if person in numbers:
-            front = numbers[person] - news[person] - sum([gave for given, gave in pairs])
-        if not is_front(front, further_in, begun):
-            return front, None
-        # of a number that lacks, and of a front of 0, nobody further in makes the sums good
-        return front, gone_through(news[person], pairs, lambda total: total + (front or 0))
-
-    return from_the_rims(village, middle, stand)
-
-
-def from_the_rims(village, middle, stand):
-    """Slates and None, or None and a break, by a function that tells of each person how they stand.
-
-    It is asked of a person, their friend further in (None for middle) and the pairs of their friends behind, and tells
-    what a break has of the person, and where the friend further in stands: (place, given, gave), None who does not fit.
-    """
     inward = inward_from(village, middle)
+    slates, gifts, broken = from_the_rims(
+        rim_order(village, inward), inward,
+        lambda person, further_in, pairs: standing(numbers, news, begun, person, further_in, pairs))
+    if slates is None:
+        return None, broken
+    return {person: slates[person] for person in village.people()}, None
+
+
+def standing(numbers, news, begun, person, further_in, pairs):
+    """How a person stands, as from_the_rims asks for it, by numbers of news known."""
+    front = None
+    if person in numbers:
+        front = numbers[person] - news[person] - sum([gave for given, gave in pairs])
+    if not is_front(front, further_in, begun):
+        return front, None
+    # of a number that lacks, and of a front of 0, nobody further in makes the sums good
+    return front, gone_through(news[person], pairs, lambda total: total + (front or 0))
+
+
+def from_the_rims(order, inward, stand):
+    """Slates, gifts and None, or None twice and a break, by a function that tells of each person how they stand.
+
+    It is asked of a person, their friend further in (None for nobody) and the pairs of their friends behind, and tells
+    what a break has of the person, and where the friend further in stands: (place, given, gave), None who does not fit.
+    order are those who are asked, far ones first. Gifts are the triples (given, gave, friend) of each one's friends
+    behind.
+    """
     gifts = {person: [] for person in inward}
     slates = {}
-    for person in rim_order(village, inward):
+    for person in order:
         told = sorted(gifts[person])
         pairs = [(given, gave) for given, gave, friend in told]
-        shown, standing = stand(person, inward[person], pairs)
-        if standing is None:
-            return None, (person, shown, pairs)
+        shown, place_and_gifts = stand(person, inward[person], pairs)
+        if place_and_gifts is None:
+            return None, None, (person, shown, pairs)
         slates[person] = [friend for given, gave, friend in told]
-        place, given_further_in, front = standing
-        # who gave nothing was not met, or is nobody: there is none further in than middle
+        place, given_further_in, front = place_and_gifts
+        # who gave nothing was not met, or is nobody: there is none further in than the middle
         if front > 0:
             slates[person].insert(place, inward[person])
             gifts[inward[person]].append((front, given_further_in, person))
-    return {person: slates[person] for person in village.people()}, None
+    return slates, gifts, None
 
 
 def is_front(front, further_in, begun):

@@ -1,5 +1,6 @@
 """What the tests share: small villages, all their slates and calendars, and answers told by going through all."""
 
+import fractions
 import functools
 import itertools
 import random
@@ -306,3 +307,36 @@ def exchanges_of(row):
 def slate_exchanges(slates):
     """All slates in which two neighbours of one slate have changed places."""
     return [{**slates, person: slate} for person in slates for slate in exchanges_of(slates[person])]
+
+
+def rises(slates, row):
+    """Whether a way, told as a list of people, rises by slates."""
+    return all(slates[person].index(ahead) < slates[person].index(behind)
+               for ahead, person, behind in zip(row, row[1:], row[2:]))
+
+
+def doors(row):
+    """The doors of a way, each the way round in which it is gone through."""
+    return list(zip(row, row[1:]))
+
+
+def turned_about(slates):
+    """Slates with each list turned about."""
+    return {person: list(slate)[::-1] for person, slate in slates.items()}
+
+
+def view_by_hand(village, slates, person):
+    """A person's view, by letting the meetings happen."""
+    told = gifts_by_hand(village, slates)
+    return [(friend, [one for one in village.people() if one in told[friend, person]]) for friend in slates[person]]
+
+
+def small_villages(seed):
+    """All villages of up to four people, some of five and six."""
+    return villages(4) + villages(5)[-40::8] + some_villages(6, 2, seed)
+
+
+def part_of(right, every):
+    """What part of all things are right, a fraction as the package tells it."""
+    found = fractions.Fraction(len([thing for thing in every if right(thing)]), len(every))
+    return (found.numerator, found.denominator)

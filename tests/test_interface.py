@@ -111,6 +111,62 @@ FUNCTIONS = {
         "count_fit": "village sayings", "chance_fit": "village sayings one other", "slates_of_all": "village sayings",
         "count_of_all": "village sayings", "clash_of": "village sayings"},
     "listeners": {"known_sets": "village person sayings", "not_so": "village person sayings"},
+    "views": {
+        "view": "village slates person", "is_view": "village person thing", "count_views": "village person",
+        "slates_of_view": "village person view", "count_of_view": "village person view",
+        "seen_chance": "village person view one other", "two_ways": "village person view one other"},
+    "observers": {
+        "stretches": "village slates lot", "are_alike_for": "village slates others lot",
+        "count_alike": "village slates lot", "known_chance": "village slates lot one other",
+        "seams": "village slates", "seers": "village slates seam", "knows_all": "village slates lot",
+        "fewest_observers": "village slates", "apart_seams": "village slates", "fewest_hearers": "village slates",
+        "apart_people": "village slates"},
+    "cancelled": {
+        "heard_without": "village slates cancelled one other", "ledger_without": "village slates cancelled",
+        "carried": "village slates one other", "lost_by": "village slates one other", "idle": "village slates hearers"},
+    "cuts": {
+        "fewest_cut": "village slates hearers tellers kept", "rumours_apart": "village slates hearers tellers kept",
+        "kept_rumour": "village slates hearers tellers kept", "is_cut": "village slates hearers tellers kept thing",
+        "are_apart": "village slates hearers tellers kept thing"},
+    "cutprices": {
+        "cheapest_cut": "village slates hearers tellers costs", "paid_rumours": "village slates hearers tellers costs",
+        "are_paid": "village slates hearers tellers costs thing"},
+    "lastmeetings": {"put_last": "village slates one other", "changed_last": "village slates one other"},
+    "allhearers": {
+        "hear_all": "village slates", "told_all": "village slates", "slates_to": "village person",
+        "count_hearing": "village by person", "count_both": "village by one other", "count_somebody": "village by"},
+    "chances": {
+        "chance": "village by person some", "chance_told": "village by person some",
+        "chance_given": "village by person some known", "mean_ledger": "village by"},
+    "chancespreads": {"chance_just": "village by person some", "spread": "village by person"},
+    "forgetful": {
+        "heard_with": "village slates memory one other", "table_with": "village slates memory",
+        "ledger_with": "village slates memory", "still_knows": "village slates memory person",
+        "least_memory": "village slates one other", "pairs_by_memory": "village slates",
+        "memory_for": "village slates wishes"},
+    "memorywishes": {"slates_for_wishes": "village memory wishes", "wishes_clash": "village memory wishes"},
+    "forgotten": {"chance_with": "village memory one other", "same_ledgers": "village memory"},
+    "joinings": {
+        "is_porch": "village thing", "porch_people": "village porch", "porch_gift": "village porch",
+        "gainers": "village porch", "joined": "first second porch entry", "joined_slates": "first second porch entry",
+        "parted": "village one other", "porches_of": "village slates one other", "between": "village one other name",
+        "between_slates": "village slates one other name"},
+    "sides": {
+        "side_told": "village one other numbers", "side_break": "village one other numbers",
+        "door_fault": "village ledger one other", "told_but_two": "village part one other"},
+    "threads": {
+        "thread": "village slates person", "ends": "village slates", "lamps": "village calendar many",
+        "round_of": "village slates", "sides": "village slates person"},
+    "seatings": {"crossing": "village seating", "slates_seated": "village seating"},
+    "fewsayings": {
+        "fewest_sayings": "village slates", "first_seams": "village slates", "leaves_one": "village slates sayings"},
+    "callers": {
+        "kept_table": "village calendar keeper", "silent_heard": "village slates lot one other",
+        "fewest_silent": "village slates hearers tellers", "apart_rumours": "village slates hearers tellers"},
+    "callerwishes": {
+        "wished_calendar": "village wisher", "run_asker": "village slates asker", "beat_asker": "village asker",
+        "same_numbers": "village lot"},
+    "desktexts": {"write_desk": "desk", "read_desk": "text"},
 }
 VILLAGE = {
     "__init__": "self people ties news", "people": "self", "ties": "self", "news": "self", "friends": "self person",
