@@ -113,7 +113,8 @@ def is_amount(word):
 
 def are_joined(draft):
     """Whether the ties read so far join all people, one or more."""
-    return len(draft.names) > 0 and len(draft.pairs) == len(draft.names) - 1
+    # none of them closes a ring
+    return len(draft.pairs) == len(draft.names) - 1
 
 
 def village_of(draft):

@@ -114,6 +114,20 @@ class Keepers(helper.Told):
 
         self.assertTold(kept_table(EXAMPLE, calendar, keeper), table(EXAMPLE, SLATES))
 
+    def test_the_lists_are_the_keepers_own(self):
+        def keeper(teller, listener, heard):
+            told = tuple(heard)
+            heard.clear()
+            return told
+
+        self.assertTold(kept_table(EXAMPLE, CALENDAR, keeper), table(EXAMPLE, SLATES))
+
+        def adding(teller, listener, heard):
+            heard.append("d" if teller != "d" else "a")
+            return heard[-1:]
+
+        self.assertRaises(BadTelling, kept_table, EXAMPLE, CALENDAR, adding)
+
     def test_one_person_and_two(self):
         self.assertTold(kept_table(ALONE, [], len), {"a": ["a"]})
         self.right_ones(TWO, [("a", "b")], all_on)

@@ -93,6 +93,27 @@ class Cuts(helper.Told):
         self.assertTold(fewest_cut(village, slates, ["c", "d"], ["a"], [("a", "x")]), [("x", "c"), ("x", "d")])
         self.assertTold(rumours_apart(village, slates, ["c", "d"], ["a"], [("a", "x")]), [["a", "x", "c"], ["a", "x", "d"]])
 
+    def test_a_shortest_rumour_may_stand_in_the_way(self):
+        # if a's news went to c, nobody's could go to e: so a's must, and b's to c
+        village = Village(list("acebdf"), [("a", "f"), ("d", "f"), ("f", "b"), ("c", "f"), ("e", "d")], [1] * 6)
+        slates = {"a": ["f"], "c": ["f"], "e": ["d"], "b": ["f"], "d": ["f", "e"], "f": ["a", "d", "b", "c"]}
+        self.right_ones(village, slates, ["c", "e"], ["b", "a"], [])
+        self.assertEqual(sorted(rumours_apart(village, slates, ["c", "e"], ["b", "a"], [])), [["a", "f", "d", "e"], ["b", "f", "c"]])
+        for seed, village in enumerate(helper.some_villages(12, 150, 1615)):
+            drawn = random.Random(seed)
+            self.right_ones(village, helper.drawn_slates(village, seed), *drawn_sides(village, drawn), [])
+
+    def test_all_ways_as_rumours(self):
+        for village, slates, hearers, tellers, kept in small_cases(1616, 3):
+            rumours = rumours_by_hand(village, slates, hearers, tellers)
+            for one, other in itertools.product(village.people(), repeat=2):
+                way = helper.way(village, one, other)
+                self.assertIs(are_apart(village, slates, hearers, tellers, kept, [way]), way in rumours)
+                self.assertIs(are_apart(village, slates, hearers, tellers, kept, [tuple(way[:-1])]), way[:-1] in rumours)
+                # not all on the way
+                self.assertIs(are_apart(village, slates, hearers, tellers, kept, [way[:1] + way[2:]]),
+                              way[:1] + way[2:] in rumours)
+
     def test_all_cuts_and_all_lots_of_rumours(self):
         for village, slates, hearers, tellers, kept in small_cases(1613, 2):
             rumours = rumours_by_hand(village, slates, hearers, tellers)

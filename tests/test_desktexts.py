@@ -251,6 +251,17 @@ class Texts(helper.Told):
             if line != "":
                 self.refused(text_of(lines[:at + 1])[:-1], at + 1)
 
+    def test_kinds_of_lines_in_order(self):
+        lines = {"person": "person e 1", "tie": "tie d a", "met": "met a b", "watch": "watch left", "hold": "hold most a"}
+        for word, ahead in lines.items():
+            if word in ("met", "watch", "hold"):
+                text = text_of(EXAMPLE_LINES[:8] + [ahead])
+                for other, line in lines.items():
+                    if other in ("person", "tie") or (word, other) in (("watch", "met"), ("hold", "met")):
+                        self.refused(text + line + "\n", 10)
+                    elif other != word:
+                        self.assertTold(write_desk(read_desk(text + line + "\n")), text + line + "\n")
+
     def test_sixteen_figures_at_most(self):
         for news in ("1", "9" * 16, "1" + "0" * 15):
             self.assertTold(read_desk(f"person a {news}\n").village().news(), [int(news)])
