@@ -28,7 +28,7 @@ def chance_given(village, by, person, some, known):
     index = first_wrong(village.people(), known)
     if index is not None:
         raise BadKnown(index)
-    both = list(known) + [one for one in some if one not in known]
+    both = list(known) + list(some)
     return fraction(one_in(village, by, person, known), one_in(village, by, person, both))
 
 

@@ -45,8 +45,7 @@ def spread(village, by, person):
     powers = {}
     for one in behind:
         powers[one] = powers_by_many(one == person, [powers[friend] for friend in behind[one]])
-    chances = {many: at_one(powers[person][many]) for many in sorted(powers[person])}
-    return {many: chances[many] for many in chances if chances[many][0] > 0}
+    return {many: at_one(powers[person][many]) for many in sorted(powers[person])}
 
 
 def powers_by_many(is_middle, rows):
